@@ -1,0 +1,1 @@
+"""Roundwright: programs for many houses that hear their neighbours alone."""
