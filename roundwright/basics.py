@@ -110,7 +110,7 @@ def spread(rows, held):
     return found
 
 
-def leading(rows, held):
+def _leading(rows, held):
     """The set of the numbers that lead to some number of a set."""
     found = 0
     for number, row in enumerate(rows):
@@ -146,7 +146,7 @@ def _good(rows, allowed):
     # For each place the numbers allowed from which a walk goes on to the end.
     found = list(allowed)
     for place in range(len(allowed) - 2, -1, -1):
-        found[place] = allowed[place] & leading(rows, found[place + 1])
+        found[place] = allowed[place] & _leading(rows, found[place + 1])
     return found
 
 

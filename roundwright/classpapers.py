@@ -119,9 +119,9 @@ def paper_of(problem):
     check_problem(problem)
     kind = class_of(problem)
     if kind == "loop":
-        return (kind, [label for label in useful(problem) if (label, label) in problem.pairs][0])
+        return (kind, [one for one in useful(problem) if (one, one) in problem.pairs][0])
     if kind == "bending":
-        label = [label for label in useful(problem) if bends(problem, label)][0]
+        label = [one for one in useful(problem) if bends(problem, one)][0]
         size = bends_from(problem, label)
         return (kind, round_at(problem, label, size), round_at(problem, label, size + 1))
     if kind == "stiff":

@@ -1,7 +1,7 @@
 """Problems made of problems: one beside the other, both at once, and told backwards."""
 
 from roundwright.errors import BadProblem, TooMany
-from roundwright.problems import MOST_LABELS, RingProblem, check_problem, PathProblem
+from roundwright.problems import MOST_LABELS, PathProblem, RingProblem, check_problem
 
 
 def check_kinds(problem, other):

@@ -110,7 +110,7 @@ def least_form(problem):
         found = _renamed(problem, names)
         if _told(found) < _told(best):
             best = found
-    return _renamed(best, range(problem.labels))
+    return _renamed(best, list(range(problem.labels)))
 
 
 def useful_form(problem):

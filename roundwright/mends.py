@@ -1,6 +1,6 @@
 """Mendings: a house without a label gets one, and labels change around it, as near and as few as can be."""
 
-from roundwright.basics import bits_of, has_line, least_of, numbers_of, tied, tied_rounds
+from roundwright.basics import bits_of, has_line, numbers_of, tied, tied_rounds
 from roundwright.drafts import check_place, is_draft, is_fair
 from roundwright.errors import BadDraft, BadNumber, NotNow
 from roundwright.problems import PathProblem, all_labels, check_problem, problem_columns, problem_rows

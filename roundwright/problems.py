@@ -111,7 +111,7 @@ def first_break(problem, labelling):
     return _first_break(problem, labelling)
 
 
-def line_choices(problem, allowed):
+def _line_choices(problem, allowed):
     """Lists of sets such that the walks along one of them are the right labellings within the sets allowed.
 
     They are told by ascending first labels; no labelling is in two of them.
@@ -123,13 +123,13 @@ def line_choices(problem, allowed):
 
 def least_right_line(problem, allowed):
     """The least right labelling with a label of the set allowed at each place, None without one."""
-    return least_of_lines(problem_rows(problem), line_choices(problem, allowed))
+    return least_of_lines(problem_rows(problem), _line_choices(problem, allowed))
 
 
 def count_right_lines(problem, allowed):
     """How many right labellings have a label of the set allowed at each place."""
     rows = problem_rows(problem)
-    return sum([count_lines(rows, choice) for choice in line_choices(problem, allowed)])
+    return sum([count_lines(rows, choice) for choice in _line_choices(problem, allowed)])
 
 
 def _check_size(problem, size):

@@ -15,12 +15,13 @@ from tests.brute import STRANGE, raised
 GREAT = brute.random_problems(81, 60, 12) + [brute.LINE_12, brute.WIELANDT_12, brute.WHOLE_12, brute.EMPTY_12]
 
 
-def always_mended(problem, reach, more=3):
-    """Whether in all fair drafts of 2 * reach + 3 houses, and some more, each house can be mended within reach.
+def always_mended(problem, reach):
+    """Whether in all fair drafts of at least 2 * reach + 3 houses each house can be mended within reach.
 
-    In a ring of just so many houses what stands farthest off on both sides are neighbours: one house more is needed.
+    In a ring of just so many houses what stands farthest off on both sides are neighbours, on a path they are the
+    ends: one house more on a ring, two more on a path, make all that can stand around a house possible.
     """
-    for size in range(2 * reach + 3, 2 * reach + 3 + more):
+    for size in range(2 * reach + 3, 2 * reach + (5 if brute.is_ring(problem) else 6)):
         for draft in brute.fair_drafts(problem, size):
             for place, label in enumerate(draft):
                 if label is None:
@@ -56,8 +57,7 @@ class TestMending(unittest.TestCase):
             found = mending(problem)
             seen.add(found)
             for reach in range(3):
-                more = 3 if reach < 2 else 2
-                self.assertEqual(always_mended(problem, reach, more), found is not None and found <= reach)
+                self.assertEqual(always_mended(problem, reach), found is not None and found <= reach)
         self.assertLessEqual({None, 0, 1}, seen)
 
     def test_against_all_drafts_of_three_labels(self):
@@ -66,8 +66,7 @@ class TestMending(unittest.TestCase):
             found = mending(problem)
             seen.add(found)
             for reach in range(2):
-                more = 3 if reach == 0 else 2
-                self.assertEqual(always_mended(problem, reach, more), found is not None and found <= reach)
+                self.assertEqual(always_mended(problem, reach), found is not None and found <= reach)
         self.assertGreater(len(seen), 2)
 
     def test_a_number_exactly_if_the_walks_say_so(self):

@@ -1,0 +1,137 @@
+"""The interface and promise 3: names, parameters and their names, and what is common to all functions."""
+
+import copy
+import importlib
+import inspect
+import unittest
+
+from roundwright.errors import BadProblem, RoundError
+from roundwright.leads import Lead
+from roundwright.problems import PathProblem, RingProblem
+from roundwright.sessions import Session
+from roundwright.sides import SideProblem
+from roundwright.tables import Table
+from tests import brute
+
+#: For each file the functions and classes with their parameters.
+INTERFACE = {
+    "problems": {
+        "RingProblem": "labels pairs", "PathProblem": "labels pairs starts ends", "is_right": "problem thing",
+        "first_break": "problem labelling", "some_labelling": "problem size", "how_many": "problem size"},
+    "nets": {"is_net": "thing", "ring_window": "net place rounds", "path_window": "net place rounds"},
+    "tables": {
+        "Table": "labels rounds names answers", "answered": "table net", "is_sound": "problem table",
+        "unsound_ring": "problem table"},
+    "drafts": {
+        "is_draft": "problem thing", "is_fair": "problem draft", "fills": "problem draft",
+        "least_fill": "problem draft", "free_labels": "problem draft place"},
+    "examples": {"examples": ""},
+    "joins": {"joined": "problem other", "crossed": "problem other", "backwards": "problem"},
+    "mends": {"reach_at": "problem draft place", "mended": "problem draft place", "mended_whole": "problem draft"},
+    "parts": {"useful": "problem", "strong_parts": "problem", "round_period": "problem label"},
+    "classes": {"class_of": "problem"},
+    "closedwalks": {
+        "round_at": "problem label size", "shortest_round": "problem label", "bends": "problem label",
+        "bends_from": "problem label"},
+    "classpapers": {"is_paper": "problem thing", "paper_of": "problem"},
+    "likes": {
+        "relabelled": "problem names", "relabelling": "problem other", "least_form": "problem",
+        "useful_form": "problem"},
+    "reaches": {"mending": "problem", "stuck": "problem reach"},
+    "renumbers": {"renumbered_labelling": "problem labelling order", "renumbered_table": "table order"},
+    "sessions": {"is_deed": "problem thing", "deed_done": "problem houses deed", "Session": "problem net"},
+    "deedtexts": {
+        "deed_text": "problem deed", "deed_of_text": "problem text", "draft_text": "problem draft",
+        "draft_of_text": "problem text"},
+    "journals": {"journal": "session", "taken_up": "problem net lines"},
+    "sides": {
+        "SideProblem": "labels tops lines", "is_right_sides": "problem thing",
+        "first_side_break": "problem labelling", "turned": "labelling", "some_sides": "problem size",
+        "how_many_sides": "problem size"},
+    "sidesizes": {"side_sizes": "problem", "is_side_size": "problem size"},
+    "pieces": {"can_stand_in_ring": "problem thing", "pieces": "problem many", "ring_with": "problem piece"},
+    "leads": {
+        "Lead": "first second rounds answers", "led": "lead labelling", "bad_piece": "lead", "is_right_lead": "lead"},
+    "leadchains": {
+        "own_lead": "problem", "widened": "lead rounds", "after": "lead other", "leads_alike": "lead other",
+        "two_way": "problem"},
+}
+METHODS = {"do": "deed", "undo": "", "redo": "", "go": "most", "houses": "", "deeds": "", "undone": "", "line": "",
+           "reaches": ""}
+
+
+class TestInterface(unittest.TestCase):
+    def test_each_name_is_defined_in_its_file(self):
+        for file, names in INTERFACE.items():
+            module = importlib.import_module(f"roundwright.{file}")
+            for name, parameters in names.items():
+                thing = getattr(module, name)
+                self.assertEqual(thing.__module__, f"roundwright.{file}", name)
+                self.assertEqual(list(inspect.signature(thing).parameters), parameters.split(), name)
+                for parameter in inspect.signature(thing).parameters.values():
+                    self.assertIs(parameter.default, inspect.Parameter.empty)
+                    self.assertIs(parameter.kind, inspect.Parameter.POSITIONAL_OR_KEYWORD)
+
+    def test_methods_stand_in_the_class_itself(self):
+        for name, parameters in METHODS.items():
+            self.assertIn(name, vars(Session))
+            self.assertEqual(list(inspect.signature(vars(Session)[name]).parameters), ["self"] + parameters.split())
+
+    def test_where_a_problem_is_wanted_it_is_judged_first(self):
+        sides = ("is_right_sides", "first_side_break", "some_sides", "how_many_sides", "side_sizes", "is_side_size")
+        for file, names in INTERFACE.items():
+            module = importlib.import_module(f"roundwright.{file}")
+            for name, parameters in names.items():
+                if not parameters.startswith("problem"):
+                    continue
+                others = [RingProblem(1, [])] if name in sides else [SideProblem(1, [], [])]
+                for thing in brute.STRANGE + tuple(others):
+                    told = [None] * (len(parameters.split()) - 1)
+                    error = brute.raised(BadProblem, getattr(module, name), thing, *told)
+                    self.assertIsNone(error.part, name)
+                    named = dict(zip(parameters.split(), [thing] + told))
+                    self.assertIsNone(brute.raised(BadProblem, getattr(module, name), **named).part, name)
+
+    def test_objects_are_equal_to_no_value_of_another_kind(self):
+        things = [
+            RingProblem(1, []), PathProblem(1, [], [], []), SideProblem(1, [], []), Table(1, 0, 1, {(1,): 0}),
+            Lead(RingProblem(1, []), RingProblem(1, []), 0, {}), Session(RingProblem(1, []), (1,))]
+        for at, one in enumerate(things):
+            for by, other in enumerate(things):
+                self.assertIs(one == other, at == by)
+                self.assertIs(one != other, at != by)
+            for other in (None, 1, (), [], "RingProblem", {}, True, type(one)):
+                self.assertIs(one == other, False)
+            self.assertIs(one == copy.deepcopy(one), True)
+
+    def test_all_errors_are_round_errors(self):
+        for call, parts in ((RingProblem, (0, [])), (Table, (1, 0, 0, {})), (Session, (None, None))):
+            with self.assertRaises(RoundError):
+                call(*parts)
+
+
+class TestNothingHandedInChanges(unittest.TestCase):
+    def test_problems(self):
+        for problem in brute.random_problems(201, 20, 4):
+            before = copy.deepcopy(problem)
+            for file, names in INTERFACE.items():
+                module = importlib.import_module(f"roundwright.{file}")
+                for name, parameters in names.items():
+                    told = {
+                        "table": Table(problem.labels, 0, 1, {(1,): 0}), "thing": (0,), "labelling": (0,), "size": 3, "draft": (None, None), "place": 0, "label": 0,
+                        "other": problem, "names": list(range(problem.labels)), "reach": 1, "many": 2, "piece": (0,),
+                        "order": tuple(range(problem.labels)), "houses": ((1,), (None,)), "deed": ("mend", 1),
+                        "text": "mend 1", "net": (1, 2), "lines": ["mend 1"]}
+                    if not parameters.startswith("problem"):
+                        continue
+                    try:
+                        getattr(module, name)(problem, *[told[word] for word in parameters.split()[1:]])
+                    except RoundError:
+                        pass
+                    self.assertEqual(problem, before)
+                    self.assertEqual(told["names"], list(range(problem.labels)))
+                    self.assertEqual(told["lines"], ["mend 1"])
+
+
+if __name__ == "__main__":
+    unittest.main()
