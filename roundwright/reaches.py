@@ -8,11 +8,11 @@ _MOST_REACH = 150
 
 
 class Side:
-    """What may stand at one side of a house without a label, told away from the house towards the far end.
+    """What may stand at one side of a house without a label; rows lead towards the house.
 
-    For a number of steps, free holds the labels that the house can get if the next houses, one fewer than steps,
-    and one more, may bear anything; held, for each label, those if it must stand so many steps away; edged those
-    if the path ends at the house so many steps away. rows lead towards the house.
+    For each number of steps, free holds the labels that the house can get if so many houses next to it bear labels
+    that may all change; held, for each label, those that it can get if that label stands so many steps away and
+    must stay; edged those that it can get if the path ends so many steps away.
     """
 
     def __init__(self, labels, rows, edges):

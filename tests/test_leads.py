@@ -68,7 +68,7 @@ class TestPieces(unittest.TestCase):
                     self.assertIs(can_stand_in_ring(problem, line), line in expected)
 
     def test_any_value_is_judged(self):
-        for thing in STRANGE + ((), [0, 1], (0, 3), (-1,), (True, 2), (0, 1.0), "01", (0, None), (0, [1])):
+        for thing in STRANGE + ((), [0, 1], (0, 3), (3,), (4,), (-1,), (True, 2), (0, 1.0), "01", (0, None), (0, [1])):
             self.assertIs(can_stand_in_ring(brute.COLOURS, thing), False, repr(thing)[:40])
             raised(BadPiece, ring_with, brute.COLOURS, thing)
         self.assertIs(can_stand_in_ring(brute.CHESS, (0, 1) * 1000), True)

@@ -3,7 +3,7 @@
 import random
 import unittest
 
-from roundwright.drafts import is_fair
+from roundwright.drafts import fills, is_fair
 from roundwright.errors import BadDraft, BadNumber, BadProblem, NotNow
 from roundwright.mends import mended, mended_whole, reach_at
 from roundwright.problems import PathProblem, RingProblem, is_right
@@ -103,6 +103,32 @@ class TestMends(unittest.TestCase):
         self.assertEqual(max(brute.distance(brute.WIELANDT_12, 391, at, 390) for at in changed), reach)
         self.assertEqual(mended(brute.COLOURS, (0, 1) * 199 + (0, None), 399), (0, 1) * 200)
         self.assertEqual(mended(brute.COLOURS, (0, 1) * 199 + (None,), 398), (0, 1) * 199 + (2,))
+
+    def test_long_reaches(self):
+        # With one house without a label all that is within a reach may be taken off and filled anew.
+        seen = set()
+        for labels, size in [(labels, size) for labels in (3, 4, 5, 6, 7) for size in range(3, 48)]:
+            pairs = [(at, (at + 1) % labels) for at in range(labels)] + [(labels - 1, 1)]
+            line = tuple(at % labels for at in range(size))
+            every = list(range(labels))
+            for problem in (RingProblem(labels, pairs), PathProblem(labels, pairs, every, [1])):
+                for place in (0, size // 2, size - 1):
+                    draft = line[:place] + (None,) + line[place + 1:]
+                    if brute.is_ring(problem):
+                        draft = line[size - place - 1:-1] + (None,) + line[:size - place - 1]
+                        place = draft.index(None)
+                    if not is_fair(problem, draft):
+                        continue
+                    reach = None
+                    for least in range(size):
+                        near = [brute.distance(problem, size, at, place) <= least for at in range(size)]
+                        bare = tuple(None if close else label for close, label in zip(near, draft))
+                        if fills(problem, bare):
+                            reach = least
+                            break
+                    self.assertEqual(reach_at(problem, draft, place), reach)
+                    seen.add(reach)
+        self.assertLessEqual({None, 30} | set(range(12)), seen)
 
     def test_what_stands_farther_off_changes_nothing(self):
         rng = random.Random(46)

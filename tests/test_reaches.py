@@ -6,6 +6,7 @@ import unittest
 
 from roundwright.drafts import is_fair
 from roundwright.errors import BadNumber, BadProblem
+from roundwright.joins import backwards
 from roundwright.mends import mended_whole, reach_at
 from roundwright.problems import PathProblem, RingProblem, is_right, some_labelling
 from roundwright.reaches import mending, stuck
@@ -144,6 +145,15 @@ class TestStuck(unittest.TestCase):
             self.assertIsNone(mending(path))
             for reach in (0, 1, 2, 150):
                 self.check(path, reach)
+        near = (
+            (PathProblem(5, [(0, 3), (1, 1), (1, 2), (1, 4), (2, 1), (3, 4), (4, 2)], [1, 2, 3, 4], [2, 3]), 4),
+            (PathProblem(5, [(0, 4), (1, 2), (2, 3), (3, 0), (4, 0), (4, 1)], [2, 3, 4], [3]), 10),
+            (PathProblem(5, [(0, 2), (0, 4), (2, 0), (2, 2), (4, 1), (4, 2)], [0, 1, 2, 4], [1, 3]), 3))
+        for path, expected in near:
+            for problem in (path, backwards(path)):
+                self.assertEqual(mending(problem), expected)
+                for reach in range(expected + 2):
+                    self.check(problem, reach)
         held = PathProblem(3, [(0, 1), (1, 1), (1, 2)], [0], [2])
         self.assertEqual(mending(held), 1)
         self.check(held, 0)
