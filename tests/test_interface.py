@@ -118,7 +118,8 @@ class TestNothingHandedInChanges(unittest.TestCase):
                 module = importlib.import_module(f"roundwright.{file}")
                 for name, parameters in names.items():
                     told = {
-                        "table": Table(problem.labels, 0, 1, {(1,): 0}), "thing": (0,), "labelling": (0,), "size": 3, "draft": (None, None), "place": 0, "label": 0,
+                        "table": Table(problem.labels, 0, 1, {(1,): 0}), "thing": (0,), "labelling": (0,),
+                        "size": 3, "draft": (None, None), "place": 0, "label": 0,
                         "other": problem, "names": list(range(problem.labels)), "reach": 1, "many": 2, "piece": (0,),
                         "order": tuple(range(problem.labels)), "houses": ((1,), (None,)), "deed": ("mend", 1),
                         "text": "mend 1", "net": (1, 2), "lines": ["mend 1"]}

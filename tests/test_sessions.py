@@ -82,7 +82,8 @@ class TestDeeds(unittest.TestCase):
         self.assertEqual(deed_done(brute.CHESS, houses, ("mend", 2)), ((1, 2), (0, 1)))
         wrong = (
             (), ((1, 2),), [(1, 2), (0, None)], ((1, 2), [0, None]), ([1, 2], (0, None)), ((1, 2), (0,)),
-            ((1, 1), (0, None)), ((1, 2), (0, 0)), ((1, 2), (0, 2)), ((), ()), ((1,), (0,)), ((0,), (None,)),
+            ((1, 2), (None,)), ((1,), (None, 0)), ((1, 1), (0, None)), ((1, 2), (0, 0)), ((1, 2), (0, 2)),
+            ((), ()), ((1,), (0,)), ((0,), (None,)),
             (None, None), ((1, 2), None), ((1, 2), (0, None), ()))
         for thing in STRANGE + wrong:
             raised(BadHouses, deed_done, brute.CHESS, thing, None)
