@@ -4,6 +4,8 @@ The bit at place n of a set tells whether n is in it. Rows are a list with one s
 it leads to.
 """
 
+from math import gcd
+
 
 def is_number(thing):
     """Whether it is an int that is not a bool."""
@@ -18,6 +20,11 @@ def is_within(thing, low, high):
 def is_listed(thing):
     """Whether it counts as a list."""
     return isinstance(thing, (list, tuple))
+
+
+def is_pair(thing):
+    """Whether it is a tuple of two things."""
+    return isinstance(thing, tuple) and len(thing) == 2
 
 
 def are_within(things, low, high):
@@ -37,7 +44,7 @@ def is_line_of(thing, most, low, high):
 
 def is_pair_of(thing, low, high):
     """Whether it is a tuple of two numbers from low to high."""
-    return isinstance(thing, tuple) and len(thing) == 2 and are_within(thing, low, high)
+    return is_pair(thing) and are_within(thing, low, high)
 
 
 def are_unlike(things):
@@ -195,3 +202,39 @@ def return_sizes(rows, number, most):
         if held >> number & 1:
             found.append(size)
     return found
+
+
+def period_of(rows, number):
+    """The greatest number that divides the steps of all walks from a number to itself, 0 if there are none."""
+    # A walk around another number that leads to this one and back, and the ways there and back, have at most three
+    # times as many steps together as there are numbers, and so have the ways alone: these sizes tell enough.
+    period = 0
+    for size in return_sizes(rows, number, 3 * len(rows)):
+        period = gcd(period, size)
+    return period
+
+
+def mates_of(rows):
+    """For each number the set of those to which walks lead and from which they lead back; itself, if one returns."""
+    after = closure(rows)
+    found = []
+    for number, row in enumerate(after):
+        found.append(bits_of([other for other in numbers_of(row) if after[other] >> number & 1]))
+    return found
+
+
+def height_ranks(rows):
+    """For each number how many lead to it: fewer than to one to which it leads, but for the mates of each other."""
+    after = closure(rows)
+    size = len(rows)
+    return [sum([1 for one in range(size) if one == number or after[one] >> number & 1]) for number in range(size)]
+
+
+def steps_between(rows, one, other):
+    """The fewest steps from a number to another one to which it leads."""
+    held = 1 << one
+    steps = 0
+    while not held >> other & 1:
+        held = spread(rows, held)
+        steps += 1
+    return steps

@@ -2,7 +2,7 @@
 
 from math import gcd
 
-from roundwright.basics import closure, is_line_of, is_number, numbers_of, spread
+from roundwright.basics import height_ranks, is_line_of, is_number, numbers_of, steps_between
 from roundwright.classes import class_of, is_looped
 from roundwright.closedwalks import bends, bends_from, round_at, shortest_round
 from roundwright.parts import round_mates, round_period, strong_parts, useful
@@ -78,29 +78,9 @@ def is_paper(problem, thing):
     return judge(problem, thing)
 
 
-def _ranks(problem):
-    # How many labels lead to a label: more than to each one that leads to it and is in no round with it.
-    after = closure(problem_rows(problem))
-    ranks = []
-    for label in range(problem.labels):
-        ahead = [one for one in range(problem.labels) if one == label or after[one] >> label & 1]
-        ranks.append(len(ahead))
-    return tuple(ranks)
-
-
-def _steps(problem, one, other):
-    # The fewest steps from a label to another one to which it leads.
-    rows = problem_rows(problem)
-    held = 1 << one
-    steps = 0
-    while not held >> other & 1:
-        held = spread(rows, held)
-        steps += 1
-    return steps
-
-
 def _marks(problem):
-    ranks = _ranks(problem)
+    rows = problem_rows(problem)
+    ranks = height_ranks(rows)
     mates = round_mates(problem)
     labels = useful(problem)
     marks = []
@@ -108,7 +88,7 @@ def _marks(problem):
         if label in labels and mates[label]:
             period = round_period(problem, label)
             first = numbers_of(mates[label])[0]
-            marks.append((ranks[label], period, _steps(problem, first, label) % period))
+            marks.append((ranks[label], period, steps_between(rows, first, label) % period))
         else:
             marks.append((ranks[label], 2, 0))
     return tuple(marks)
@@ -126,4 +106,4 @@ def paper_of(problem):
         return (kind, round_at(problem, label, size), round_at(problem, label, size + 1))
     if kind == "stiff":
         return (kind, _marks(problem), shortest_round(problem, strong_parts(problem)[0][0]))
-    return (kind, _ranks(problem))
+    return (kind, tuple(height_ranks(problem_rows(problem))))

@@ -29,7 +29,7 @@ class BadDeeds(RoundError):
     """A list of deeds is wrong: at tells where, or is None."""
 
     def __init__(self, at):
-        RoundError.__init__(self, _words("a list of deeds is wrong", at))
+        super().__init__(_words("a list of deeds is wrong", at))
         self.at = at
 
 
@@ -53,7 +53,7 @@ class BadJournal(RoundError):
     """A journal is wrong: number tells the line, or is None."""
 
     def __init__(self, number):
-        RoundError.__init__(self, _words("a journal is wrong", number))
+        super().__init__(_words("a journal is wrong", number))
         self.number = number
 
 
@@ -73,7 +73,7 @@ class BadLead(RoundError):
     """A Lead is wrong: part tells which part, or is None."""
 
     def __init__(self, part):
-        RoundError.__init__(self, _words("a lead is wrong", part))
+        super().__init__(_words("a lead is wrong", part))
         self.part = part
 
 
@@ -85,7 +85,7 @@ class BadLog(RoundError):
     """A log is wrong: at tells where, or is None."""
 
     def __init__(self, at):
-        RoundError.__init__(self, _words("a log is wrong", at))
+        super().__init__(_words("a log is wrong", at))
         self.at = at
 
 
@@ -109,7 +109,7 @@ class BadNumber(RoundError):
     """A number is wrong: part tells which one."""
 
     def __init__(self, part):
-        RoundError.__init__(self, _words("a number is wrong", part))
+        super().__init__(_words("a number is wrong", part))
         self.part = part
 
 
@@ -129,7 +129,7 @@ class BadProblem(RoundError):
     """A problem is wrong: part tells which part, or is None."""
 
     def __init__(self, part):
-        RoundError.__init__(self, _words("a problem is wrong", part))
+        super().__init__(_words("a problem is wrong", part))
         self.part = part
 
 
@@ -137,7 +137,7 @@ class BadProgram(RoundError):
     """A program is wrong: part tells which part, or is None."""
 
     def __init__(self, part):
-        RoundError.__init__(self, _words("a program is wrong", part))
+        super().__init__(_words("a program is wrong", part))
         self.part = part
 
 
@@ -149,7 +149,7 @@ class BadSizes(RoundError):
     """A set of sizes is wrong: part tells which part, or is None."""
 
     def __init__(self, part):
-        RoundError.__init__(self, _words("a set of sizes is wrong", part))
+        super().__init__(_words("a set of sizes is wrong", part))
         self.part = part
 
 
@@ -165,7 +165,7 @@ class BadTable(RoundError):
     """A table is wrong: part tells which part, or is None."""
 
     def __init__(self, part):
-        RoundError.__init__(self, _words("a table is wrong", part))
+        super().__init__(_words("a table is wrong", part))
         self.part = part
 
 
@@ -173,7 +173,7 @@ class BadText(RoundError):
     """A text is wrong: at tells where, or is None."""
 
     def __init__(self, at):
-        RoundError.__init__(self, _words("a text is wrong", at))
+        super().__init__(_words("a text is wrong", at))
         self.at = at
 
 
@@ -185,7 +185,7 @@ class BadWeb(RoundError):
     """A web is wrong: part tells which part, or is None."""
 
     def __init__(self, part):
-        RoundError.__init__(self, _words("a web is wrong", part))
+        super().__init__(_words("a web is wrong", part))
         self.part = part
 
 
@@ -197,7 +197,7 @@ class BadWork(RoundError):
     """A work is wrong: part tells which part, or is None."""
 
     def __init__(self, part):
-        RoundError.__init__(self, _words("a work is wrong", part))
+        super().__init__(_words("a work is wrong", part))
         self.part = part
 
 
@@ -205,7 +205,7 @@ class CannotCome(RoundError):
     """A deed cannot come: number tells which one."""
 
     def __init__(self, number):
-        RoundError.__init__(self, _words("a deed cannot come", number))
+        super().__init__(_words("a deed cannot come", number))
         self.number = number
 
 
@@ -225,5 +225,5 @@ class TooMany(RoundError):
     """There are more than most of them."""
 
     def __init__(self, most):
-        RoundError.__init__(self, _words("there are too many", most))
+        super().__init__(_words("there are too many", most))
         self.most = most

@@ -94,6 +94,22 @@ def relabelling(problem, other):
     return _least_names(problem_rows(problem), problem_rows(other), looks, [])
 
 
+def unlike_labels(problem):
+    """The ascending list of labels of which each other label can be made by a relabelling that changes nothing."""
+    rows = problem_rows(problem)
+    looks = _looks(problem, problem)[0]
+    found = []
+    for label, look in enumerate(looks):
+        alike = False
+        for one in found:
+            # Both labels get a look of their own, so that one must become the other.
+            marked = (looks[:one] + [-1] + looks[one + 1:], looks[:label] + [-1] + looks[label + 1:])
+            alike = alike or (looks[one] == look and _least_names(rows, rows, marked, []) is not None)
+        if not alike:
+            found.append(label)
+    return found
+
+
 def _told(problem):
     if isinstance(problem, RingProblem):
         return (problem.pairs,)

@@ -1,8 +1,6 @@
 """Parts: which labels of a problem are useful, and which of them stand in rounds together."""
 
-from math import gcd
-
-from roundwright.basics import bits_of, closure, is_within, least_of, numbers_of, return_sizes, spread
+from roundwright.basics import bits_of, closure, is_within, least_of, mates_of, numbers_of, period_of, spread
 from roundwright.errors import BadNumber
 from roundwright.problems import PathProblem, check_problem, problem_columns, problem_rows
 
@@ -21,9 +19,7 @@ def useful(problem):
 
 def round_mates(problem):
     """For each label the set of the labels that stand in a round together with it."""
-    after = closure(problem_rows(problem))
-    ahead = closure(problem_columns(problem))
-    return [row & column for row, column in zip(after, ahead)]
+    return mates_of(problem_rows(problem))
 
 
 def strong_parts(problem):
@@ -44,9 +40,4 @@ def round_period(problem, label):
     """The greatest number that divides the lengths of all rounds of a label, 0 if it has none."""
     check_problem(problem)
     check_label(problem, label)
-    # A round of another label of the part, and the ways to it and back, have at most 3 * labels steps together,
-    # and so have the ways alone: the lengths up to there tell the length of each such round.
-    period = 0
-    for size in return_sizes(problem_rows(problem), label, 3 * problem.labels):
-        period = gcd(period, size)
-    return period
+    return period_of(problem_rows(problem), label)

@@ -28,14 +28,23 @@ def can_stand_in_ring(problem, thing):
     return _is_piece(problem, thing)
 
 
+def _beginning(rows):
+    return [label for label, row in enumerate(rows) if row]
+
+
+def count_pieces(problem, many):
+    """How many pieces of so many labels there are."""
+    rows = part_rows(problem)
+    return count_lines(rows, [bits_of(_beginning(rows))] + [all_labels(problem)] * (many - 1))
+
+
 def all_pieces(problem, many):
     """The ascending list of all pieces of so many labels, TooMany(4000) if there are more."""
-    rows = part_rows(problem)
-    begins = [label for label, row in enumerate(rows) if row]
-    if count_lines(rows, [bits_of(begins)] + [all_labels(problem)] * (many - 1)) > MOST_PIECES:
+    if count_pieces(problem, many) > MOST_PIECES:
         raise TooMany(MOST_PIECES)
+    rows = part_rows(problem)
     following = [numbers_of(row) for row in rows]
-    found = [(label,) for label in begins]
+    found = [(label,) for label in _beginning(rows)]
     for _ in range(many - 1):
         found = [piece + (label,) for piece in found for label in following[piece[-1]]]
     return found

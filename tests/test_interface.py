@@ -10,6 +10,9 @@ from roundwright.leads import Lead
 from roundwright.problems import PathProblem, RingProblem
 from roundwright.sessions import Session
 from roundwright.sides import SideProblem
+from roundwright.sizes import Sizes
+from roundwright.stages import Program
+from roundwright.steppers import Stepper
 from roundwright.tables import Table
 from tests import brute
 
@@ -55,9 +58,37 @@ INTERFACE = {
     "leadchains": {
         "own_lead": "problem", "widened": "lead rounds", "after": "lead other", "leads_alike": "lead other",
         "two_way": "problem"},
+    "leadsearch": {"least_lead": "first second rounds", "fewest_rounds_lead": "first second most"},
+    "sidestates": {
+        "mirror": "state", "states": "problem", "next_states": "problem state", "is_state_walk": "problem thing",
+        "walk_of": "problem one other steps", "as_ring": "problem"},
+    "sideclasses": {"side_class": "problem", "side_paper": "problem", "is_side_paper": "problem thing"},
+    "bends": {"bend": "problem state", "filled": "problem state marks"},
+    "sizes": {
+        "Sizes": "begin period told", "has_size": "sizes size", "next_size": "sizes size", "how_many_sizes": "sizes",
+        "least_sizes": "sizes", "both_sizes": "sizes other", "either_sizes": "sizes other",
+        "unlike_size": "sizes other"},
+    "sizing": {
+        "sizes_of": "problem", "round_sizes": "problem label", "problem_of_sizes": "sizes", "flower": "lengths"},
+    "stages": {"Program": "problem stages", "rounds_of": "program"},
+    "steppers": {"Stepper": "states first steps"},
+    "fronts": {
+        "is_front": "kind thing", "front_leads": "kind one other", "fronts_between": "kind one other",
+        "how_many_fronts": "kind size rounds", "orders_to": "kind front", "last_front_below": "kind numbers",
+        "first_front_above": "kind numbers"},
+    "cones": {
+        "needed": "kind size place rounds", "how_many_needed": "kind size place rounds",
+        "last_front": "kind size rounds lost", "fewest_lost": "kind front rounds"},
+    "goings": {"held_up": "kind spans", "end_of": "kind spans rounds", "safe_firsts": "kind lasts"},
+    "houselogs": {"log_of": "stepper name first states", "read_log": "stepper name thing"},
 }
-METHODS = {"do": "deed", "undo": "", "redo": "", "go": "most", "houses": "", "deeds": "", "undone": "", "line": "",
-           "reaches": ""}
+#: For each class its methods with their parameters.
+METHODS = {
+    Session: {"do": "deed", "undo": "", "redo": "", "go": "most", "houses": "", "deeds": "", "undone": "", "line": "",
+              "reaches": ""}}
+#: The files whose problems are SideProblems.
+SIDES = ("sides", "sidesizes", "sidestates", "sideclasses", "bends")
+ZEROS = {(left, 0, right): 0 for left in (0, 1) for right in (0, 1)}
 
 
 class TestInterface(unittest.TestCase):
@@ -73,18 +104,18 @@ class TestInterface(unittest.TestCase):
                     self.assertIs(parameter.kind, inspect.Parameter.POSITIONAL_OR_KEYWORD)
 
     def test_methods_stand_in_the_class_itself(self):
-        for name, parameters in METHODS.items():
-            self.assertIn(name, vars(Session))
-            self.assertEqual(list(inspect.signature(vars(Session)[name]).parameters), ["self"] + parameters.split())
+        for kind, methods in METHODS.items():
+            for name, parameters in methods.items():
+                self.assertIn(name, vars(kind))
+                self.assertEqual(list(inspect.signature(vars(kind)[name]).parameters), ["self"] + parameters.split())
 
     def test_where_a_problem_is_wanted_it_is_judged_first(self):
-        sides = ("is_right_sides", "first_side_break", "some_sides", "how_many_sides", "side_sizes", "is_side_size")
         for file, names in INTERFACE.items():
             module = importlib.import_module(f"roundwright.{file}")
             for name, parameters in names.items():
                 if not parameters.startswith("problem"):
                     continue
-                others = [RingProblem(1, [])] if name in sides else [SideProblem(1, [], [])]
+                others = [RingProblem(1, [])] if file in SIDES else [SideProblem(1, [], [])]
                 for thing in brute.STRANGE + tuple(others):
                     told = [None] * (len(parameters.split()) - 1)
                     error = brute.raised(BadProblem, getattr(module, name), thing, *told)
@@ -95,7 +126,8 @@ class TestInterface(unittest.TestCase):
     def test_objects_are_equal_to_no_value_of_another_kind(self):
         things = [
             RingProblem(1, []), PathProblem(1, [], [], []), SideProblem(1, [], []), Table(1, 0, 1, {(1,): 0}),
-            Lead(RingProblem(1, []), RingProblem(1, []), 0, {}), Session(RingProblem(1, []), (1,))]
+            Lead(RingProblem(1, []), RingProblem(1, []), 0, {}), Session(RingProblem(1, []), (1,)),
+            Sizes(0, 1, [True]), Program(RingProblem(1, []), ()), Stepper(1, [0], ZEROS)]
         for at, one in enumerate(things):
             for by, other in enumerate(things):
                 self.assertIs(one == other, at == by)
@@ -122,8 +154,8 @@ class TestNothingHandedInChanges(unittest.TestCase):
                         "size": 3, "draft": (None, None), "place": 0, "label": 0,
                         "other": problem, "names": list(range(problem.labels)), "reach": 1, "many": 2, "piece": (0,),
                         "order": tuple(range(problem.labels)), "houses": ((1,), (None,)), "deed": ("mend", 1),
-                        "text": "mend 1", "net": (1, 2), "lines": ["mend 1"]}
-                    if not parameters.startswith("problem"):
+                        "text": "mend 1", "net": (1, 2), "lines": ["mend 1"], "stages": (("names",),)}
+                    if not parameters.startswith("problem") or file in SIDES:
                         continue
                     try:
                         getattr(module, name)(problem, *[told[word] for word in parameters.split()[1:]])

@@ -17,8 +17,10 @@ BARRED = (
     "type typing enum Enum Generic Protocol ABC namedtuple dataclass overload contextmanager register mro elements "
     "open input law eval exec compile globals locals vars dir id exit quit help next map filter round hash format "
     "slice object iter pow print chr frozenset bytes super getattr setattr hasattr").split()
-LIBRARY = {("math", "gcd"), ("itertools", "permutations")}
+LIBRARY = {("math", "gcd"), ("math", "lcm"), ("itertools", "permutations")}
 SPECIAL = {"__init__", "__eq__"}
+#: What is called but is no builtin of the list and no own name: the library, and names for functions of tables.
+CALLED = {name for _, name in LIBRARY} | {"judge", "super"}
 
 
 def parsed():
@@ -148,13 +150,19 @@ class TestCode(unittest.TestCase):
                     continue
                 where = (path, node.lineno)
                 if isinstance(node.func, ast.Name):
-                    self.assertIn(node.func.id, own | BUILTINS | {"gcd", "permutations", "judge"}, where)
+                    self.assertIn(node.func.id, own | BUILTINS | CALLED, where)
                     words = [word.arg for word in node.keywords]
                     if node.func.id in BUILTINS:
                         self.assertIn(words, ([], ["default"]), where)
                 else:
                     self.assertIn(node.func.attr, own | METHODS | SPECIAL, where)
                     self.assertEqual(node.keywords, [], where)
+
+    def test_super_makes_errors_alone(self):
+        for path, text in parsed():
+            self.assertEqual(text.count("super()"), text.count("super().__init__(") if path.stem == "errors" else 0)
+            if path.stem != "errors":
+                self.assertNotIn(".__init__", text)
 
     def test_sets_are_only_measured_and_sorted(self):
         for path, text in parsed():
