@@ -5,6 +5,7 @@ import importlib
 import inspect
 import unittest
 
+from roundwright.diskhouses import DiskHouse
 from roundwright.errors import BadProblem, RoundError
 from roundwright.leads import Lead
 from roundwright.problems import PathProblem, RingProblem
@@ -14,6 +15,7 @@ from roundwright.sizes import Sizes
 from roundwright.stages import Program
 from roundwright.steppers import Stepper
 from roundwright.tables import Table
+from roundwright.treeproblems import TreeProblem
 from tests import brute
 
 #: For each file the functions and classes with their parameters.
@@ -81,13 +83,34 @@ INTERFACE = {
         "last_front": "kind size rounds lost", "fewest_lost": "kind front rounds"},
     "goings": {"held_up": "kind spans", "end_of": "kind spans rounds", "safe_firsts": "kind lasts"},
     "houselogs": {"log_of": "stepper name first states", "read_log": "stepper name thing"},
+    "diskhouses": {"DiskHouse": "stepper name sides thing", "fallen_house": "house kept"},
+    "problemtexts": {"problem_text": "problem names", "tail_of_problem_text": "text", "problem_of_text": "text"},
+    "nettexts": {"net_text": "net", "tail_of_net_text": "text", "net_of_text": "text"},
+    "programtexts": {"program_text": "program names", "tail_of_program_text": "text", "program_of_text": "text"},
+    "rectangles": {
+        "rectangles": "problem", "is_cover": "problem thing", "is_bar": "problem number thing",
+        "fewest_lines": "problem", "short_text": "problem names"},
+    "treeproblems": {
+        "TreeProblem": "labels arms rows", "is_tree": "arms thing", "first_wrong": "problem tree labelling",
+        "how_many_right": "problem tree", "least_right": "problem tree", "ball": "tree place rounds"},
+    "spacing": {"spaced": "names gap"},
+    "treelayers": {"layers": "tree rakes far"},
+    "trims": {"roots": "problem some height", "trimmed": "problem some", "steady": "problem some"},
+    "freesets": {
+        "walk": "problem some top bottom steps", "free_from": "problem some few", "free_sets": "problem some"},
+    "treechains": {
+        "is_hub": "problem thing", "is_chain": "problem thing", "longest_chain": "problem", "some_hub": "problem"},
+    "treemakers": {"plan": "problem size", "labelled": "problem tree"},
 }
 #: For each class its methods with their parameters.
 METHODS = {
     Session: {"do": "deed", "undo": "", "redo": "", "go": "most", "houses": "", "deeds": "", "undone": "", "line": "",
-              "reaches": ""}}
+              "reaches": ""},
+    DiskHouse: {"take": "side number state", "go": "", "sync": "", "told": "number", "trim": "number"}}
 #: The files whose problems are SideProblems.
 SIDES = ("sides", "sidesizes", "sidestates", "sideclasses", "bends")
+#: The files whose problems are TreeProblems.
+TREES = ("treeproblems", "trims", "freesets", "treechains", "treemakers")
 ZEROS = {(left, 0, right): 0 for left in (0, 1) for right in (0, 1)}
 
 
@@ -115,7 +138,9 @@ class TestInterface(unittest.TestCase):
             for name, parameters in names.items():
                 if not parameters.startswith("problem"):
                     continue
-                others = [RingProblem(1, [])] if file in SIDES else [SideProblem(1, [], [])]
+                others = [SideProblem(1, [], []), TreeProblem(1, 1, [])]
+                if file in SIDES or file in TREES:
+                    others[0 if file in SIDES else 1] = RingProblem(1, [])
                 for thing in brute.STRANGE + tuple(others):
                     told = [None] * (len(parameters.split()) - 1)
                     error = brute.raised(BadProblem, getattr(module, name), thing, *told)
@@ -127,7 +152,7 @@ class TestInterface(unittest.TestCase):
         things = [
             RingProblem(1, []), PathProblem(1, [], [], []), SideProblem(1, [], []), Table(1, 0, 1, {(1,): 0}),
             Lead(RingProblem(1, []), RingProblem(1, []), 0, {}), Session(RingProblem(1, []), (1,)),
-            Sizes(0, 1, [True]), Program(RingProblem(1, []), ()), Stepper(1, [0], ZEROS)]
+            Sizes(0, 1, [True]), Program(RingProblem(1, []), ()), Stepper(1, [0], ZEROS), TreeProblem(1, 1, [])]
         for at, one in enumerate(things):
             for by, other in enumerate(things):
                 self.assertIs(one == other, at == by)
@@ -154,8 +179,8 @@ class TestNothingHandedInChanges(unittest.TestCase):
                         "size": 3, "draft": (None, None), "place": 0, "label": 0,
                         "other": problem, "names": list(range(problem.labels)), "reach": 1, "many": 2, "piece": (0,),
                         "order": tuple(range(problem.labels)), "houses": ((1,), (None,)), "deed": ("mend", 1),
-                        "text": "mend 1", "net": (1, 2), "lines": ["mend 1"], "stages": (("names",),)}
-                    if not parameters.startswith("problem") or file in SIDES:
+                        "text": "mend 1", "net": (1, 2), "lines": ["mend 1"], "stages": (("names",),), "number": 0}
+                    if not parameters.startswith("problem") or file in SIDES + TREES:
                         continue
                     try:
                         getattr(module, name)(problem, *[told[word] for word in parameters.split()[1:]])

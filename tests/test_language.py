@@ -20,7 +20,9 @@ BARRED = (
 LIBRARY = {("math", "gcd"), ("math", "lcm"), ("itertools", "permutations")}
 SPECIAL = {"__init__", "__eq__"}
 #: What is called but is no builtin of the list and no own name: the library, and names for functions of tables.
-CALLED = {name for _, name in LIBRARY} | {"judge", "super"}
+CALLED = {name for _, name in LIBRARY} | {"judge", "super", "grammar"}
+#: An attribute of one class and a method of another one: the document gives both this name.
+BOTH = {"told"}
 
 
 def parsed():
@@ -196,7 +198,7 @@ class TestCode(unittest.TestCase):
         every = set().union(*attributes.values())
         for name, group in methods.items():
             self.assertEqual(group & attributes[name], set())
-            self.assertEqual((group & every) - SPECIAL, set(), name)
+            self.assertEqual((group & every) - SPECIAL - BOTH, set(), name)
         barred = set("items keys values pop update append clear extend insert remove reverse setdefault sort args "
                      "encode decode hex format".split())
         self.assertEqual(every & barred, set())
