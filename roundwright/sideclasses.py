@@ -90,8 +90,8 @@ def _is_bending_paper(problem, paper):
         return False
     if not _are_ranks(problem, ranks) or not _are_ascending(problem, ranks):
         return False
-    rank_of = {state: rank for state, rank in zip(all_states(problem), ranks)}
-    return all([rank_of[state] != rank_of[mirror(state)] for state in _looped(problem)])
+    rank_of = {held: rank for held, rank in zip(all_states(problem), ranks)}
+    return all([rank_of[looped] != rank_of[mirror(looped)] for looped in _looped(problem)])
 
 
 def _is_turn(thing):

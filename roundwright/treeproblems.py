@@ -126,7 +126,8 @@ def _orders(problem):
     # For each label the ascending list of what its children may bear, told in any sequence of theirs.
     found = [{} for _ in range(problem.labels)]
     for label, below in problem.rows:
-        for order in permutations(below):
+        labels = list(below)
+        for order in permutations(labels):
             found[label][order] = True
     return [sorted(list(orders)) for orders in found]
 
