@@ -4,9 +4,9 @@ What is left for a place is kept as a set in bits. The search goes on as if each
 were alone, and keeps what came of each group with the same sets left: so like cases are gone through once.
 """
 
-from roundwright.basics import columns_of, numbers_of, rows_of, spread
+from roundwright.basics import bits_of, columns_of, numbers_of, rows_of, spread
 
-
+# Ratios are compared as whole numbers of such parts.
 _FINE = 1000000
 
 
@@ -20,6 +20,7 @@ class MapSearch:
             self.behind[one].append(other)
             self.ahead[other].append(one)
         self.weights = [{other: 1 for other in self.behind[at] + self.ahead[at]} for at in range(size)]
+        self.width = other_size
         self.full = (1 << other_size) - 1
         self.loops = sum([1 << one for one, other in other_pairs if one == other])
         self.rows = rows_of(other_size, other_pairs)
@@ -106,7 +107,10 @@ class MapSearch:
 
     def solved_group(self, held, group):
         """What solved leaves at the places of a group, as a list; None if there is nothing."""
-        key = tuple([(place, held[place]) for place in group])
+        sets = 0
+        for place in group:
+            sets = sets << self.width | held[place]
+        key = (bits_of(group), sets)
         if key not in self.known:
             self.known[key] = self.tried(held, group, self.full)
         return self.known[key]
@@ -140,9 +144,8 @@ class MapSearch:
 def least_map(size, pairs, other_size, other_pairs, leaders):
     """The least map of a web into another one as a list, None without one.
 
-    The leaders are a set of places of the other web; for each of its places some renaming of the other web that
-    changes none of its pairs puts a leader there. So a map that has a certain place somewhere need not be looked for
-    if there is none that has its leader there.
+    The leaders are a set of places of the other web: each of its places can be made a leader by a renaming of the
+    other web that keeps its pairs. So if there is a map, there is one with a leader at the place that is tried first.
     """
     search = MapSearch(size, pairs, other_size, other_pairs)
     places = list(range(size))
