@@ -213,6 +213,7 @@ class TestExactness(unittest.TestCase):
         self.assertEqual(raised(BadText, problem_of_text, "ring\nlabels abc abc\n").at, 19)
         self.assertEqual(raised(BadText, problem_of_text, "ring\nlabels abc abc").at, 19)
         self.assertEqual(tail_of_problem_text("ring\nlabels abc abc"), "a")
+        self.assertEqual(tail_of_problem_text("ring\nlabels a aa ab a"), "c")
         twelve = "abcdefghijkl"
         self.assertEqual(raised(BadText, problem_of_text, f"ring\nlabels {twelve} {twelve}").at, 36)
         self.assertEqual(raised(BadText, problem_of_text, f"ring\nlabels {twelve}m").at, 24)

@@ -208,6 +208,46 @@ class TestClasses(unittest.TestCase):
         self.assertIs(is_side_paper(EMPTY, ("never", (0,))), False)
         self.assertEqual(side_class(SideProblem(2, [(0, 0), (1, 1)], [(0, 1)])), "stiff")
 
+    def test_turns_of_three(self):
+        # Steps lead from (0, 3) to (3, 0), on to (1, 1) and back: all in one part, one way round.
+        problem = SideProblem(4, [(0, 3), (1, 1)], [(0, 1), (2, 2), (3, 3)])
+        self.assertEqual(side_class(problem), "stiff")
+        walk = ((0, 3), (3, 0), (1, 1), (0, 3))
+        for turns in itertools.product([(0, 0)] + [(g, k) for g in (2, 3, 6) for k in range(g)], repeat=3):
+            paper = ("stiff", walk, (0, 0, 0), turns)
+            good = turns[0][0] == 3 and turns == tuple((3, (turns[0][1] + step) % 3) for step in (0, 2, 1))
+            self.assertIs(is_side_paper(problem, paper), good)
+            self.assertIs(slow_paper(problem, paper), good)
+        self.assertIs(is_side_paper(problem, ("stiff", walk * 1000, (7, 7, 7), ((3, 0), (3, 2), (3, 1)))), False)
+        long = walk[:3] * 1000 + walk[:1]
+        self.assertIs(is_side_paper(problem, ("stiff", long, (7, 7, 7), ((3, 0), (3, 2), (3, 1)))), True)
+        for turn in ((1, 0), (3, 3), (3, -1), (-3, 0), (0, 1), (3, True), (True, 0), (3.0, 0), [3, 0], (3,), (3, 0, 0), 3):
+            self.assertIs(is_side_paper(problem, ("stiff", walk, (0, 0, 0), (turn, (3, 2), (3, 1)))), False)
+
+    def test_bending_papers_part_by_part(self):
+        rng = random.Random(409)
+        taken = 0
+        for problem in (chain((2, 3), 4), SideProblem(3, [(0, 0), (1, 1), (2, 2)], [(0, 1), (0, 2), (1, 2)]),
+                        SideProblem(3, [(0, 1), (2, 2)], [(0, 0), (0, 2), (1, 1), (1, 2)])):
+            walks = [walk for steps in range(5) for walk in slow_walks(problem, steps)]
+            closed = [walk for walk in walks if walk[0] == walk[-1]]
+            held = slow_states(problem)
+            paper = side_paper(problem)
+            for _ in range(1500):
+                state = rng.choice(held)
+                one, other = rng.choice(closed), rng.choice(closed)
+                if rng.random() < 0.7:
+                    one = rng.choice([walk for walk in closed if walk[0] == state])
+                    other = rng.choice([walk for walk in closed if walk[0] == state])
+                there = rng.choice([walk for walk in walks if walk[0] == state])
+                back = there[::-1] if rng.random() < 0.8 else rng.choice(walks)
+                back = tuple(mirror(one) for one in back) if rng.random() < 0.3 else back
+                ranks = rng.choice((paper[-1], paper[-1], (0,) * len(held), tuple(rng.randint(0, 1) for _ in held)))
+                told = ("bending", state, one, other, there, back, ranks)
+                self.assertIs(is_side_paper(problem, told), slow_paper(problem, told), told)
+                taken += slow_paper(problem, told)
+        self.assertGreater(taken, 20)
+
     def test_kinds_of_papers(self):
         colours = SideProblem(3, [(0, 0), (1, 1), (2, 2)], [(0, 1), (0, 2), (1, 2)])
         paper = side_paper(colours)

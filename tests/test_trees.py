@@ -128,7 +128,8 @@ class TestTreeProblems(unittest.TestCase):
         self.assertIs(is_tree(1, tuple((at + 1, at - 1) for at in range(5000))), True)
         for thing in STRANGE + ((), ((1, 0),), ((1, -2),), ((0, -1),), ((10 ** 9 + 1, -1),), ((True, -1),), ((1, -1.0),),
                                 ((1, None),), [(1, -1)], ([1, -1],), ((1, -1, 0),), ((1, -1), (1, 0)), ((1, -1), (2, 1)),
-                                ((1, -1), (2, -1)), ((1, -1), (2, 2)), ((1, -1), (2, False)), (1, -1)):
+                                ((1, -1), (2, -1)), ((1, -1), (2, 2)), ((1, -1), (2, False)), (1, -1),
+                                ((1, -1), (2, 0), (3, 2)), ((1, -1), (2, 2), (3, 0))):
             self.assertIs(is_tree(1, thing), False)
         for arms in (0, 4, True, None, 1.0):
             self.assertEqual(raised(BadNumber, is_tree, arms, None).part, "arms")
@@ -450,6 +451,11 @@ class TestChains(unittest.TestCase):
                                 ((0, 1), (), (0, 1)), ((0,),)):
             self.assertIs(is_chain(hub, thing), False)
         self.assertIs(is_chain(hub, ((0, 1),) * 9), True)
+        for at in range(3):
+            for part in ((1, 0), (0, 1, 1), [0, 1], (False, 1)):
+                chain = [(0, 1)] * 3
+                chain[at] = part
+                self.assertIs(is_chain(hub, tuple(chain)), False)
 
 
 if __name__ == "__main__":
