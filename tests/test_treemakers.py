@@ -173,7 +173,15 @@ def problems_with_chains(seed, many):
     return found
 
 
-MADE = [colours(3, 1), colours(3, 2), colours(4, 3), HUB, ONE, LATE] + [tower(many) for many in (1, 2, 3, 6)]
+def turned_tower(many):
+    """A tower whose labels are numbered the other way: the least ones belong to the first set of a chain alone."""
+    last = 2 * many - 1
+    rows = [(last - a, tuple(sorted(last - b for b in below))) for a, below in tower(many).rows]
+    return TreeProblem(2 * many, 2, rows)
+
+
+MADE = [colours(3, 1), colours(3, 2), colours(4, 3), HUB, ONE, LATE] + [tower(many) for many in (1, 2, 3, 6)] + [
+    turned_tower(many) for many in (2, 3, 4)]
 
 
 def comb(rng, arms, size):
@@ -262,7 +270,42 @@ class TestLabelled(unittest.TestCase):
         for problem in (whole, late, tower(6), colours(12, 3), colours(3, 1)):
             for how in ("any", "deep", "late"):
                 self.check(problem, grown(rng, problem.arms, 3000, how))
-        self.check(tower(2), comb(rng, 2, 6000))
+        for problem in (tower(2), turned_tower(2), turned_tower(3)):
+            self.check(problem, comb(rng, 2, 6000))
+
+    def test_lines_between_later_phases(self):
+        # Combs whose teeth are lines with bushes at their ends: phase by phase lines stand below later houses.
+        rng = random.Random(962)
+        phases = set()
+        for problem in (turned_tower(2), turned_tower(3), turned_tower(4), tower(3)):
+            for _ in range(6):
+                tree = self.bushy(rng, rng.choice((2, 3)), 12)
+                labels, _, _ = self.check(problem, tree)
+                told = layers(tree, *plan(problem, len(tree))[1:])
+                phases |= {layer[0] for layer in told}
+                self.assertTrue(set(labels) <= set(range(problem.labels)))
+        self.assertIn(2, phases)
+
+    def bushy(self, rng, depth, long):
+        """A tree of two arms: lines of some length, each with a leaf beside each house and two such trees at its end."""
+        parents = [-1]
+
+        def grow(tip, deep):
+            for _ in range(long * deep * deep):
+                parents.extend([tip, tip])
+                tip = len(parents) - 1
+            if deep == 0:
+                for _ in range(4):
+                    parents.extend([tip, tip])
+                    tip = len(parents) - 1
+                return
+            parents.extend([tip, tip])
+            first = len(parents) - 2
+            grow(first, deep - 1)
+            grow(first + 1, deep - 1)
+
+        grow(0, depth)
+        return shuffled(rng, tuple(zip(names_of(rng, len(parents)), parents)))[0]
 
     def test_names_and_places(self):
         # Told in another sequence the houses have the same labels and rounds; handed in trees do not change.
