@@ -87,7 +87,8 @@ def bits_of(numbers):
 
 def numbers_of(held):
     """The ascending list of the numbers of a set."""
-    return [number for number in range(held.bit_length()) if held >> number & 1]
+    # The digits in twos are gone through at once: shifting a great set for each number takes far longer.
+    return [number for number, digit in enumerate(f"{held:b}"[::-1]) if digit == "1"]
 
 
 def least_of(held):

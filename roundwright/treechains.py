@@ -6,8 +6,8 @@ from roundwright.treeproblems import check_tree_problem
 from roundwright.trims import trim
 
 
-def _is_set(problem, thing):
-    # Whether a thing is a set of labels that is not empty, as an ascending tuple.
+def is_label_set(problem, thing):
+    """Whether a thing is a set of labels that is not empty, as an ascending tuple."""
     if not is_tuple_of(thing, 0, problem.labels - 1) or thing == ():
         return False
     return all([one < other for one, other in zip(thing[:-1], thing[1:])])
@@ -16,7 +16,7 @@ def _is_set(problem, thing):
 def is_hub(problem, thing):
     """Whether a thing is a set that is trimmed of itself and free in itself."""
     check_tree_problem(problem)
-    if not _is_set(problem, thing) or trim(problem, thing) != thing:
+    if not is_label_set(problem, thing) or trim(problem, thing) != thing:
         return False
     return free_steps(problem, thing, thing) is not None
 
@@ -28,7 +28,7 @@ def _first_set(problem):
 def is_chain(problem, thing):
     """Whether a thing is a chain of the problem."""
     check_tree_problem(problem)
-    if not isinstance(thing, tuple) or len(thing) % 2 == 0 or not all([_is_set(problem, part) for part in thing]):
+    if not isinstance(thing, tuple) or len(thing) % 2 == 0 or not all([is_label_set(problem, part) for part in thing]):
         return False
     if thing[0] != _first_set(problem):
         return False

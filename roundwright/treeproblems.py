@@ -11,7 +11,8 @@ MOST_ARMS = 3
 _MOST_BALL = 1000000
 
 
-def _is_row(thing, labels, arms):
+def is_row(thing, labels, arms):
+    """Whether a thing is a row of a problem of so many labels and arms."""
     if not is_pair(thing) or not is_within(thing[0], 0, labels - 1):
         return False
     below = thing[1]
@@ -28,7 +29,7 @@ class TreeProblem:
             raise BadProblem("labels")
         if not is_within(arms, 1, MOST_ARMS):
             raise BadProblem("arms")
-        if not is_listed(rows) or not all([_is_row(row, labels, arms) for row in rows]) or not are_unlike(rows):
+        if not is_listed(rows) or not all([is_row(row, labels, arms) for row in rows]) or not are_unlike(rows):
             raise BadProblem("rows")
         self.labels = labels
         self.arms = arms
@@ -224,14 +225,8 @@ def places_around(tree, children, place, rounds):
     return found
 
 
-def ball(tree, place, rounds):
-    """What a house knows of its tree after so many rounds."""
-    check_any_tree(tree)
-    if not is_within(place, 0, len(tree) - 1):
-        raise BadNumber("place")
-    if not is_within(rounds, 0, _MOST_BALL):
-        raise BadNumber("rounds")
-    children = children_of(tree)
+def ball_of(tree, children, place, rounds):
+    """As ball, of a tree with the children of its houses."""
     near = places_around(tree, children, place, rounds)
     triples = []
     for one in near:
@@ -241,3 +236,13 @@ def ball(tree, place, rounds):
             above = tree[parent][0] if parent in near else -1
         triples.append((name, above, len(children[one])))
     return (tree[place][0], tuple(sorted(triples)))
+
+
+def ball(tree, place, rounds):
+    """What a house knows of its tree after so many rounds."""
+    check_any_tree(tree)
+    if not is_within(place, 0, len(tree) - 1):
+        raise BadNumber("place")
+    if not is_within(rounds, 0, _MOST_BALL):
+        raise BadNumber("rounds")
+    return ball_of(tree, children_of(tree), place, rounds)

@@ -16,6 +16,7 @@ from roundwright.stages import Program
 from roundwright.steppers import Stepper
 from roundwright.tables import Table
 from roundwright.treeproblems import TreeProblem
+from roundwright.webs import Web
 from tests import brute
 
 #: For each file the functions and classes with their parameters.
@@ -101,6 +102,22 @@ INTERFACE = {
     "treechains": {
         "is_hub": "problem thing", "is_chain": "problem thing", "longest_chain": "problem", "some_hub": "problem"},
     "treemakers": {"plan": "problem size", "labelled": "problem tree"},
+    "treestars": {
+        "is_star": "problem thing", "some_star": "problem", "some_still": "problem", "is_still": "problem thing",
+        "tree_class": "problem"},
+    "against": {"against": "problem program rounds"},
+    "starmakers": {"starred": "problem tree"},
+    "walks": {"least_walk_of": "problem begins ends steps"},
+    "making": {"made": "problem"},
+    "runs": {"run_states": "program net", "ran": "program net", "rounds_at": "program size"},
+    "webs": {
+        "Web": "size pairs", "web_of": "problem", "whole_web": "size", "rising_web": "size", "turned_web": "web",
+        "arc_web": "web"},
+    "maps": {"is_map": "one other thing", "some_map": "one other", "first_maps": "one other most"},
+    "bars": {"is_map_bar": "one other thing", "map_bar": "one other"},
+    "folding": {"folds": "web", "lean": "web", "lean_map": "web", "renaming": "one other"},
+    "gates": {"gates": "web", "step_down": "web", "led_up": "one other thing", "led_down": "one other thing"},
+    "rows": {"most_beside": "web", "most_in_row": "web"},
 }
 #: For each class its methods with their parameters.
 METHODS = {
@@ -110,7 +127,8 @@ METHODS = {
 #: The files whose problems are SideProblems.
 SIDES = ("sides", "sidesizes", "sidestates", "sideclasses", "bends")
 #: The files whose problems are TreeProblems.
-TREES = ("treeproblems", "trims", "freesets", "treechains", "treemakers")
+TREES = (
+    "treeproblems", "trims", "freesets", "treechains", "treemakers", "treestars", "against", "starmakers")
 ZEROS = {(left, 0, right): 0 for left in (0, 1) for right in (0, 1)}
 
 
@@ -152,7 +170,8 @@ class TestInterface(unittest.TestCase):
         things = [
             RingProblem(1, []), PathProblem(1, [], [], []), SideProblem(1, [], []), Table(1, 0, 1, {(1,): 0}),
             Lead(RingProblem(1, []), RingProblem(1, []), 0, {}), Session(RingProblem(1, []), (1,)),
-            Sizes(0, 1, [True]), Program(RingProblem(1, []), ()), Stepper(1, [0], ZEROS), TreeProblem(1, 1, [])]
+            Sizes(0, 1, [True]), Program(RingProblem(1, []), ()), Stepper(1, [0], ZEROS), TreeProblem(1, 1, []),
+            Web(1, [])]
         for at, one in enumerate(things):
             for by, other in enumerate(things):
                 self.assertIs(one == other, at == by)
@@ -179,7 +198,8 @@ class TestNothingHandedInChanges(unittest.TestCase):
                         "size": 3, "draft": (None, None), "place": 0, "label": 0,
                         "other": problem, "names": list(range(problem.labels)), "reach": 1, "many": 2, "piece": (0,),
                         "order": tuple(range(problem.labels)), "houses": ((1,), (None,)), "deed": ("mend", 1),
-                        "text": "mend 1", "net": (1, 2), "lines": ["mend 1"], "stages": (("names",),), "number": 0}
+                        "text": "mend 1", "net": (1, 2), "lines": ["mend 1"], "stages": (("names",),), "number": 0,
+                        "begins": [0], "ends": [0], "steps": 2}
                     if not parameters.startswith("problem") or file in SIDES + TREES:
                         continue
                     try:

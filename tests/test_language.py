@@ -12,15 +12,16 @@ BUILTINS = set(
     "all divmod ValueError".split())
 METHODS = set(
     "append count endswith extend find get index insert isdigit isascii items join keys pop remove replace reverse "
-    "split startswith strip update values bit_length".split())
+    "setdefault split startswith strip update values bit_length".split())
 BARRED = (
     "type typing enum Enum Generic Protocol ABC namedtuple dataclass overload contextmanager register mro elements "
     "open input law eval exec compile globals locals vars dir id exit quit help next map filter round hash format "
     "slice object iter pow print chr frozenset bytes super getattr setattr hasattr").split()
-LIBRARY = {("math", "gcd"), ("math", "lcm"), ("itertools", "permutations")}
+LIBRARY = {
+    ("math", "gcd"), ("math", "lcm"), ("itertools", "permutations"), ("heapq", "heappush"), ("heapq", "heappop")}
 SPECIAL = {"__init__", "__eq__"}
 #: What is called but is no builtin of the list and no own name: the library, and names for functions of tables.
-CALLED = {name for _, name in LIBRARY} | {"judge", "super", "grammar"}
+CALLED = {name for _, name in LIBRARY} | {"judge", "super", "grammar", "program"}
 #: An attribute of one class and a method of another one: the document gives both this name.
 BOTH = {"told"}
 
@@ -106,7 +107,7 @@ class TestCode(unittest.TestCase):
     def test_no_other_nodes(self):
         barred = (
             ast.Lambda, ast.GeneratorExp, ast.Yield, ast.YieldFrom, ast.Global, ast.Nonlocal, ast.With, ast.Match,
-            ast.NamedExpr, ast.Set, ast.SetComp, ast.AnnAssign, ast.Div, ast.Pow, ast.Delete, ast.Assert,
+            ast.NamedExpr, ast.Set, ast.SetComp, ast.AnnAssign, ast.Div, ast.Pow, ast.Assert,
             ast.AsyncFunctionDef, ast.Await, ast.Starred)
         for path, text in parsed():
             for node in ast.walk(ast.parse(text)):
@@ -160,11 +161,17 @@ class TestCode(unittest.TestCase):
                     self.assertIn(node.func.attr, own | METHODS | SPECIAL, where)
                     self.assertEqual(node.keywords, [], where)
 
-    def test_super_makes_errors_alone(self):
+    def test_super_makes_objects_alone(self):
         for path, text in parsed():
-            self.assertEqual(text.count("super()"), text.count("super().__init__(") if path.stem == "errors" else 0)
+            self.assertEqual(text.count("super()"), text.count("super().__init__("))
             if path.stem != "errors":
-                self.assertNotIn(".__init__", text)
+                self.assertEqual(text.count(".__init__"), text.count("super().__init__("), path)
+
+    def test_things_deleted_are_items_and_slices(self):
+        for path, text in parsed():
+            for node in ast.walk(ast.parse(text)):
+                if isinstance(node, ast.Delete):
+                    self.assertTrue(all(isinstance(part, ast.Subscript) for part in node.targets), path)
 
     def test_sets_are_only_measured_and_sorted(self):
         for path, text in parsed():
@@ -180,7 +187,7 @@ class TestCode(unittest.TestCase):
             for node in ast.walk(ast.parse(text)):
                 if isinstance(node, ast.ExceptHandler):
                     kinds = node.type.elts if isinstance(node.type, ast.Tuple) else [node.type]
-                    self.assertTrue(all(kind.id in ("NotNow", "BadPhrase") for kind in kinds), path)
+                    self.assertTrue(all(kind.id in ("NotNow", "BadPhrase", "TooMany") for kind in kinds), path)
                 if isinstance(node, ast.Raise):
                     self.assertIsInstance(node.exc, ast.Call)
                 if isinstance(node, ast.Compare) and isinstance(node.ops[0], (ast.Is, ast.IsNot)):
@@ -196,9 +203,10 @@ class TestCode(unittest.TestCase):
                         inner.attr for inner in ast.walk(node)
                         if isinstance(inner, ast.Attribute) and isinstance(inner.ctx, ast.Store)}
         every = set().union(*attributes.values())
+        both = {(name, word) for name, group in methods.items() for word in (group & every) - SPECIAL - BOTH}
+        self.assertEqual(both, set())
         for name, group in methods.items():
             self.assertEqual(group & attributes[name], set())
-            self.assertEqual((group & every) - SPECIAL - BOTH, set(), name)
         barred = set("items keys values pop update append clear extend insert remove reverse setdefault sort args "
                      "encode decode hex format".split())
         self.assertEqual(every & barred, set())
