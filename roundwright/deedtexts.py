@@ -9,8 +9,8 @@ from roundwright.sessions import is_deed
 _MOST_DIGITS = 10
 
 
-def _number_told(word):
-    # The number that a word tells in digits without needless zeros, None if it tells none.
+def number_told(word):
+    """The number that a word tells in digits without needless zeros, None if it tells none."""
     if not word.isascii() or not word.isdigit() or len(word) > _MOST_DIGITS:
         return None
     return None if word[0] == "0" and len(word) > 1 else int(word)
@@ -30,7 +30,7 @@ def deed_of_text(problem, text):
     if not isinstance(text, str):
         raise BadPhrase("not a string")
     words = text.split(" ")
-    deed = tuple(words[:1] + [_number_told(word) for word in words[1:]])
+    deed = tuple(words[:1] + [number_told(word) for word in words[1:]])
     if not is_deed(problem, deed):
         raise BadPhrase("not the text of a deed of the problem")
     return deed
@@ -49,7 +49,7 @@ def draft_of_text(problem, text):
     if not isinstance(text, str):
         raise BadPhrase("not a string")
     words = text.split(" ")
-    told = [None if word == "-" else _number_told(word) for word in words]
+    told = [None if word == "-" else number_told(word) for word in words]
     if [word == "-" for word in words] != [label is None for label in told] or not is_draft(problem, tuple(told)):
         raise BadPhrase("not the text of a draft for the problem")
     return tuple(told)

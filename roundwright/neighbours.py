@@ -1,6 +1,6 @@
 """Who stands beside whom on rings and paths, told by places."""
 
-from roundwright.basics import is_number
+from roundwright.basics import is_number, is_within
 from roundwright.errors import BadNumber
 
 LEFT = 0
@@ -25,6 +25,19 @@ def neighbours(kind, size, place):
     """The list of the places of the houses at the left and at the right side of a house, where somebody stands."""
     both = [neighbour(kind, size, place, side) for side in (LEFT, RIGHT)]
     return [beside for beside in both if beside is not None]
+
+
+def is_place_deed(kind, size, thing):
+    """Whether a thing is a deed of houses: a letter handed at a side where somebody stands, or a round."""
+    if not isinstance(thing, tuple) or len(thing) < 2 or not isinstance(thing[0], str):
+        return False
+    if not is_within(thing[1], 0, size - 1):
+        return False
+    if thing[0] == "round":
+        return len(thing) == 2
+    if thing[0] != "hand" or len(thing) != 4 or not is_side(kind, size, thing[1], thing[2]):
+        return False
+    return is_number(thing[3]) and thing[3] >= 0
 
 
 def distance(kind, size, one, other):

@@ -108,10 +108,9 @@ class RowSearch:
         many = [(-_size(held & self.rows[place]), place) for place in numbers_of(held)]
         return [place for less, place in sorted(many) if less <= 1 - need]
 
-    def least_row(self, held):
-        """The least of the greatest rows within a set."""
+    def least_row(self, held, need):
+        """The least row of so many places within a set that has one."""
         found = []
-        need = self.row_size(held)
         while need > 0:
             need -= 1
             for place in numbers_of(held):
@@ -125,13 +124,27 @@ class RowSearch:
 def _least_row(web, rows, columns):
     if loops_of(web):
         return None
-    return RowSearch(rows, columns).least_row((1 << web.size) - 1)
+    search = RowSearch(rows, columns)
+    full = (1 << web.size) - 1
+    return search.least_row(full, search.row_size(full))
+
+
+def _both_ways(web):
+    return [row & column for row, column in zip(web_rows(web), web_columns(web))]
+
+
+def some_beside(web, many):
+    """The least ascending tuple of so many places of a web without loops that all lead to one another; or None."""
+    both = _both_ways(web)
+    search = RowSearch(both, both)
+    full = (1 << web.size) - 1
+    return search.least_row(full, many) if search.reaches(full, many) else None
 
 
 def most_beside(web):
     """The least ascending tuple of as many places as can be that all lead to one another; None if there is a loop."""
     check_web(web)
-    both = [row & column for row, column in zip(web_rows(web), web_columns(web))]
+    both = _both_ways(web)
     return _least_row(web, both, both)
 
 

@@ -80,8 +80,8 @@ def _changed(houses, deed):
     return _bare(houses, deed[1])
 
 
-def _outcome(problem, houses, deed):
-    # The pair of the reach (None but for a mending) and the houses behind a deed; NotNow if it cannot be done.
+def outcome_of(problem, houses, deed):
+    """The pair of the reach (None but for a mending) and the houses behind a deed; NotNow if it cannot be done."""
     if deed[0] == "mend":
         found = _mend(problem, houses, deed[1])
     else:
@@ -99,7 +99,7 @@ def deed_done(problem, houses, deed):
         raise BadHouses("not houses for the problem")
     if not is_deed(problem, deed):
         raise BadDeed("not a deed of the problem")
-    return _outcome(problem, houses, deed)[1]
+    return outcome_of(problem, houses, deed)[1]
 
 
 class Session:
@@ -121,7 +121,7 @@ class Session:
         return self._done == other._done and self._undone == other._undone
 
     def _put(self, deed):
-        reach, houses = _outcome(self.problem, self._line[-1], deed)
+        reach, houses = outcome_of(self.problem, self._line[-1], deed)
         self._done.append(deed)
         self._line.append(houses)
         self._reached.append(reach)

@@ -7,11 +7,12 @@ from roundwright.errors import BadNet, BadTable
 from roundwright.nets import around_ring, is_net
 from roundwright.problems import MOST_LABELS, check_ring, problem_rows
 
-_MOST_ROUNDS = 3
+MOST_TABLE_ROUNDS = 3
 _MOST_TUPLES = 50000
 
 
-def _are_names(rounds, names):
+def are_table_names(rounds, names):
+    """Whether this is a number of names up to which a Table of so many rounds can go."""
     if not is_number(names) or names < 2 * rounds + 1:
         return False
     many = 1
@@ -22,8 +23,8 @@ def _are_names(rounds, names):
     return True
 
 
-def _unlike_tuples(names, many):
-    # The ascending list of the tuples of so many unlike numbers from 1 to names.
+def unlike_tuples(names, many):
+    """The ascending list of the tuples of so many unlike numbers from 1 to names."""
     return list(permutations(range(1, names + 1), many))
 
 
@@ -33,11 +34,11 @@ class Table:
     def __init__(self, labels, rounds, names, answers):
         if not is_within(labels, 1, MOST_LABELS):
             raise BadTable("labels")
-        if not is_within(rounds, 0, _MOST_ROUNDS):
+        if not is_within(rounds, 0, MOST_TABLE_ROUNDS):
             raise BadTable("rounds")
-        if not _are_names(rounds, names):
+        if not are_table_names(rounds, names):
             raise BadTable("names")
-        windows = _unlike_tuples(names, 2 * rounds + 1)
+        windows = unlike_tuples(names, 2 * rounds + 1)
         if not are_answers(answers, windows, labels):
             raise BadTable("answers")
         self.labels = labels
@@ -71,7 +72,7 @@ def _unsound_tuples(problem, table):
     # The tuples of 2 * rounds + 2 unlike names at whose both ends the answers are no pair.
     rows = problem_rows(problem)
     found = []
-    for names in _unlike_tuples(table.names, 2 * table.rounds + 2):
+    for names in unlike_tuples(table.names, 2 * table.rounds + 2):
         if not rows[table.answers[names[:-1]]] >> table.answers[names[1:]] & 1:
             found.append(names)
     return found

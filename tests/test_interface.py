@@ -5,9 +5,11 @@ import importlib
 import inspect
 import unittest
 
+from roundwright.desk import Desk
 from roundwright.diskhouses import DiskHouse
 from roundwright.errors import BadProblem, RoundError
 from roundwright.leads import Lead
+from roundwright.posts import Post
 from roundwright.problems import PathProblem, RingProblem
 from roundwright.sessions import Session
 from roundwright.sides import SideProblem
@@ -17,6 +19,7 @@ from roundwright.steppers import Stepper
 from roundwright.tables import Table
 from roundwright.treeproblems import TreeProblem
 from roundwright.webs import Web
+from roundwright.wides import WideProblem
 from tests import brute
 
 #: For each file the functions and classes with their parameters.
@@ -118,14 +121,37 @@ INTERFACE = {
     "folding": {"folds": "web", "lean": "web", "lean_map": "web", "renaming": "one other"},
     "gates": {"gates": "web", "step_down": "web", "led_up": "one other thing", "led_down": "one other thing"},
     "rows": {"most_beside": "web", "most_in_row": "web"},
+    "whatifs": {
+        "without": "session number", "loose": "session", "exchangeable": "session", "last_change": "session name"},
+    "desk": {"Desk": "problem net"},
+    "wides": {
+        "WideProblem": "labels width windows", "is_right_wide": "problem thing", "as_pairs": "problem",
+        "brought": "problem labelling", "brought_back": "problem labelling"},
+    "windowruns": {
+        "answer_at": "program window", "begin_window": "program name", "next_window": "program window left right",
+        "label_of": "program window"},
+    "programtables": {"table_of": "program names"},
+    "windows": {"all_windows": "names halves kind", "window_web": "names halves kind"},
+    "stepping": {"web_stepped": "web halves", "most_names": "problem halves kind"},
+    "stepprograms": {
+        "step_answer": "problem rounds names window", "step_labelling": "problem rounds names colouring"},
+    "tablemaps": {
+        "map_of_table": "table", "least_table": "problem rounds names", "bar_of_tables": "problem rounds names"},
+    "works": {"in_rounds": "work kind net rounds"},
+    "posts": {"Post": "work kind net rounds"},
+    "shortposts": {
+        "short_run": "stepper kind net modulus deeds", "wrong_run": "modulus late"},
 }
 #: For each class its methods with their parameters.
 METHODS = {
     Session: {"do": "deed", "undo": "", "redo": "", "go": "most", "houses": "", "deeds": "", "undone": "", "line": "",
               "reaches": ""},
-    DiskHouse: {"take": "side number state", "go": "", "sync": "", "told": "number", "trim": "number"}}
+    DiskHouse: {"take": "side number state", "go": "", "sync": "", "told": "number", "trim": "number"},
+    Post: {"can_come": "deed", "do": "deed", "useful": "", "labels": "", "ended": "choices"},
+    Desk: {"say": "line"}}
 #: The files whose problems are SideProblems.
 SIDES = ("sides", "sidesizes", "sidestates", "sideclasses", "bends")
+WIDES = ("wides",)
 #: The files whose problems are TreeProblems.
 TREES = (
     "treeproblems", "trims", "freesets", "treechains", "treemakers", "treestars", "against", "starmakers")
@@ -159,6 +185,7 @@ class TestInterface(unittest.TestCase):
                 others = [SideProblem(1, [], []), TreeProblem(1, 1, [])]
                 if file in SIDES or file in TREES:
                     others[0 if file in SIDES else 1] = RingProblem(1, [])
+                others += [RingProblem(1, [])] if file in WIDES else [WideProblem(1, 2, [])]
                 for thing in brute.STRANGE + tuple(others):
                     told = [None] * (len(parameters.split()) - 1)
                     error = brute.raised(BadProblem, getattr(module, name), thing, *told)
@@ -171,7 +198,7 @@ class TestInterface(unittest.TestCase):
             RingProblem(1, []), PathProblem(1, [], [], []), SideProblem(1, [], []), Table(1, 0, 1, {(1,): 0}),
             Lead(RingProblem(1, []), RingProblem(1, []), 0, {}), Session(RingProblem(1, []), (1,)),
             Sizes(0, 1, [True]), Program(RingProblem(1, []), ()), Stepper(1, [0], ZEROS), TreeProblem(1, 1, []),
-            Web(1, [])]
+            Web(1, []), WideProblem(1, 2, [])]
         for at, one in enumerate(things):
             for by, other in enumerate(things):
                 self.assertIs(one == other, at == by)
@@ -199,8 +226,9 @@ class TestNothingHandedInChanges(unittest.TestCase):
                         "other": problem, "names": list(range(problem.labels)), "reach": 1, "many": 2, "piece": (0,),
                         "order": tuple(range(problem.labels)), "houses": ((1,), (None,)), "deed": ("mend", 1),
                         "text": "mend 1", "net": (1, 2), "lines": ["mend 1"], "stages": (("names",),), "number": 0,
-                        "begins": [0], "ends": [0], "steps": 2}
-                    if not parameters.startswith("problem") or file in SIDES + TREES:
+                        "begins": [0], "ends": [0], "steps": 2,
+                        "rounds": 1, "halves": 1, "kind": "next", "window": (1, 2, 1), "colouring": (1, 2)}
+                    if not parameters.startswith("problem") or file in SIDES + TREES + WIDES:
                         continue
                     try:
                         getattr(module, name)(problem, *[told[word] for word in parameters.split()[1:]])

@@ -22,8 +22,8 @@ LIBRARY = {
 SPECIAL = {"__init__", "__eq__"}
 #: What is called but is no builtin of the list and no own name: the library, and names for functions of tables.
 CALLED = {name for _, name in LIBRARY} | {"judge", "super", "grammar", "program"}
-#: An attribute of one class and a method of another one: the document gives both this name.
-BOTH = {"told"}
+#: Attributes of some classes and methods of others: the document gives both these names.
+BOTH = {"told", "labels"}
 
 
 def parsed():
