@@ -168,6 +168,12 @@ def _wanted_labels(problem, labels):
     return [label for label, below in rows_within(problem, labels) if label in below]
 
 
+def _can_widen(problem, labels):
+    # Whether two labels can ever stand above the same leaves: if no two rows are alike below, one leads to one alone.
+    belows = [below for _, below in rows_within(problem, labels)]
+    return len(labels) == 1 or len(set(belows)) < len(belows)
+
+
 def lowest_shoots(problem, still):
     """Shoots that reach all labels of a set from one row of leaves, of a small height; None if there are none.
 
@@ -179,7 +185,7 @@ def lowest_shoots(problem, still):
     for some in _greatest_hubs(problem) if chain_or_hub(problem)[1] is not None else []:
         for labels in _hubs_within(problem, list(some)):
             wanted = _wanted_labels(problem, labels) if still else []
-            if tuple(labels) in seen or (still and not wanted):
+            if tuple(labels) in seen or (still and not wanted) or not _can_widen(problem, labels):
                 continue
             seen[tuple(labels)] = True
             shoots = Shoots(problem, labels, wanted)
