@@ -366,22 +366,25 @@ class MapHunt:
         places = [self.events[start][0] for start in self.begun[2:]]
         return [(place, self.held[place]) for place in places]
 
-    def leave_this(self):
+    def leave_this(self, assumed):
         """Learn that another map than the one found is wanted; whether to go on with what is tried, or begin anew."""
-        images = self.tried()
+        images = {place: self.held[place] for place, _ in assumed}
+        for place, image in self.tried():
+            images[place] = image
+        goes_on = len(images) > 1 and not assumed
+        self.back_to(self.level() - 1 if goes_on else 0)
+        # What is so for all maps need not be looked at.
+        images = {place: image for place, image in images.items() if goes_on or self.held[place] != image}
         full = (1 << len(self.rows)) - 1
         number = len(self.learned)
+        last = list(images)[-2:]
         self.lasting[number] = True
-        self.learned.append({place: full & ~image for place, image in images})
-        self.watched.append(sum([place for place, _ in images[-2:]]))
-        self.back_to(self.level() - 1 if len(images) > 1 else 0)
+        self.learned.append({place: full & ~image for place, image in images.items()})
+        self.watched.append(sum(last))
         if not images:
             self.broken = True
-            return False
-        place, image = images[-1]
-        self.take(place, image, _LEARNED, number)
-        if len(images) == 1:
-            return False
-        for place, _ in images[-2:]:
+        elif goes_on or len(images) == 1:
+            self.take(last[-1], images[last[-1]], _LEARNED, number)
+        for place in last if len(images) > 1 else []:
             self.watching[place].append(number)
-        return True
+        return goes_on

@@ -74,7 +74,7 @@ def first_maps(one, other, most):
         found.append(_map_of(sets))
         if len(found) == most:
             break
-        goes_on = hunt.leave_this()
         # What was assumed was so for this map alone.
-        sets, assumed = _least(hunt, goes_on and assumed == [])
+        goes_on = hunt.leave_this(assumed)
+        sets, assumed = _least(hunt, goes_on)
     return found

@@ -5,6 +5,7 @@ import itertools
 import random
 import unittest
 
+from roundwright import barhunt, maphunt, maps
 from roundwright.bars import is_map_bar, map_bar
 from roundwright.errors import BadNumber, BadWeb
 from roundwright.maps import first_maps, is_map, some_map
@@ -139,6 +140,32 @@ class TestMaps(unittest.TestCase):
         for thing in STRANGE + ((True, 0), (0, 2), [0, 1], (0, 1, 0), (0.0, 1), (0,), (0, 0)):
             self.assertIs(is_map(Web(2, [(0, 1)]), whole_web(2), thing), False)
         self.assertIs(is_map(Web(2, [(0, 1)]), whole_web(2), (0, 1)), True)
+
+
+class TestHunts(unittest.TestCase):
+    def test_hunts_that_forget_and_begin_anew(self):
+        # With little patience and room small webs go through all that great ones do.
+        rng = random.Random(613)
+        places = ((maphunt, "_PATIENCE", (0, 1, 3)), (maphunt, "_MORE_ROOM", (2, 5, 20)), (maps, "_STRAIGHT", (0, 1, 3)),
+                  (barhunt, "_LOOKED_AT", (1, 2, 10)))
+        before = [getattr(home, word) for home, word, _ in places]
+        try:
+            for _ in range(3000):
+                for home, word, numbers in places:
+                    setattr(home, word, rng.choice(numbers))
+                size, images = rng.choice(((4, 4), (5, 3), (6, 3), (8, 2), (7, 3)))
+                share = rng.choice((0.15, 0.25, 0.35))
+                one = Web(size, [(a, b) for a in range(size) for b in range(size) if a != b and rng.random() < share])
+                other = random_web(rng, images, images)
+                every = slow_maps(one, other)
+                self.assertEqual(some_map(one, other), every[0] if every else None)
+                most = rng.choice((1, 3, 50, 200))
+                self.assertEqual(first_maps(one, other, most), every[:most])
+                bar = map_bar(one, other)
+                self.assertTrue(every if bar is None else is_map_bar(one, other, bar))
+        finally:
+            for (home, word, _), number in zip(places, before):
+                setattr(home, word, number)
 
 
 class TestGreatWebs(unittest.TestCase):
