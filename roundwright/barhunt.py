@@ -5,7 +5,8 @@ Once a place has nothing left, only those events become rows of the bar of which
 nothing is left out.
 """
 
-from roundwright.basics import columns_of, least_of, numbers_of, rows_of, spread
+from roundwright.basics import least_of, numbers_of
+from roundwright.webpairs import WebPair
 
 _TRIED = 0
 _AHEAD = 1
@@ -15,45 +16,24 @@ _SHOWN = 4
 _FINE = 1000000000000
 # So many places are looked at before an image is tried for one.
 _LOOKED_AT = 10
+# Where more images are left than so many for each, the place is taken as it comes.
+_FEW = 40
 
 
-class BarHunt:
+class BarHunt(WebPair):
     """Two webs without a map from the first to the second, what is left for each place, and the events."""
 
     def __init__(self, one, other, weights):
-        self.behind = [[] for _ in range(one.size)]
-        self.ahead = [[] for _ in range(one.size)]
-        self.rows = rows_of(other.size, other.pairs)
-        self.columns = columns_of(other.size, other.pairs)
-        self.led_known = {}
-        self.leading_known = {}
-        self.sizes = {}
+        super().__init__(one, other)
         self.weights = [2 if weight else 1 for weight in weights]
         self.events = []
         self.of_place = [[] for _ in range(one.size)]
-        self.held = [(1 << other.size) - 1] * one.size
+        self.held = [self.images] * one.size
         self.changed = list(range(one.size))
         # Where the events begin of each image that is tried.
         self.begun = []
-        loops = sum([1 << first for first, second in other.pairs if first == second])
-        for first, second in one.pairs:
-            if first == second:
-                self.take(first, self.held[first] & ~loops, _LOOP, first)
-            else:
-                self.behind[first].append(second)
-                self.ahead[second].append(first)
-
-    def led(self, held):
-        """The set of what the places of a set lead to."""
-        if held not in self.led_known:
-            self.led_known[held] = spread(self.rows, held)
-        return self.led_known[held]
-
-    def leading(self, held):
-        """The set of what leads to the places of a set."""
-        if held not in self.leading_known:
-            self.leading_known[held] = spread(self.columns, held)
-        return self.leading_known[held]
+        for place in self.looped:
+            self.take(place, self.held[place] & ~self.loops, _LOOP, place)
 
     def take(self, place, dropped, kind, cause):
         """Take something from what is left for a place."""
@@ -88,12 +68,6 @@ class BarHunt:
         """Note down that a place had part in a dead end."""
         self.weights[place] += 1
 
-    def many(self, held):
-        """How many images a set has."""
-        if held not in self.sizes:
-            self.sizes[held] = f"{held:b}".count("1")
-        return self.sizes[held]
-
     def undo(self, start):
         """Undo the events from a start on."""
         for place, dropped, _, _ in self.events[start:][::-1]:
@@ -120,7 +94,10 @@ class BarHunt:
         for place, held in enumerate(self.held):
             if held & (held - 1):
                 ranks.append((self.many(held) * _FINE // self.weights[place], place))
-        _, place = min([(self.cost(place), place) for _, place in sorted(ranks)[:_LOOKED_AT]])
+        ranks = sorted(ranks)
+        place = ranks[0][1]
+        if self.many(self.held[place]) <= _FEW:
+            _, place = min([(self.cost(place), place) for _, place in ranks[:_LOOKED_AT]])
         return place
 
     def require(self, wanted, place, sets):

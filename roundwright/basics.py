@@ -111,6 +111,8 @@ def columns_of(size, pairs):
 
 def spread(rows, held):
     """The set of what the numbers of a set lead to."""
+    if held and held & (held - 1) == 0:
+        return rows[held.bit_length() - 1]
     found = 0
     for number, row in enumerate(rows):
         if held >> number & 1:

@@ -116,13 +116,15 @@ class Line:
     def fill(self, label, reach):
         """Marked houses answer a label, those between them, or between them and an end, as the least walks have it."""
         behind, ahead = self.gaps()
+        found = list(self.answers)
         for place, answer in enumerate(self.answers):
             if answer is None and self.marks[place]:
-                self.answers[place] = label
+                found[place] = label
             elif answer is None:
                 walk, step = self.walk_at(label, reach, place, behind[place], ahead[place])
                 if walk is not None:
-                    self.answers[place] = walk[step]
+                    found[place] = walk[step]
+        self.answers = found
 
     def walk_at(self, label, reach, place, behind, ahead):
         """The walk in which an unmarked house stands and its place there; None for the walk if there is none."""

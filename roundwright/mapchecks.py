@@ -13,6 +13,8 @@ from roundwright.webs import Web, loops_of, web_columns, web_rows
 
 # Rows of greater webs are not searched for.
 _MOST_SEARCHED = 256
+# So often it is tried to make a row long enough.
+_TRIES = 3000
 # So many places are tried as the first one of a row.
 _FIRSTS = 8
 
@@ -45,9 +47,9 @@ def _has_long_rows(one, other):
     both = [row & column for row, column in zip(rows, columns)]
     image_both = [row & column for row, column in zip(image_rows, image_columns)]
     full = (1 << other.size) - 1
-    if not RowSearch(image_both, image_both).reaches(full, _some_row(both)):
+    if not RowSearch(image_both, image_both, _TRIES).reaches(full, _some_row(both)):
         return True
-    return not RowSearch(image_rows, image_columns).reaches(full, _some_row(rows))
+    return not RowSearch(image_rows, image_columns, _TRIES).reaches(full, _some_row(rows))
 
 
 def unarced(web):

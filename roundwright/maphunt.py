@@ -5,7 +5,8 @@ its cause; from these it is read off why a place has nothing left. What is learn
 one of these places at least has an image of its set. It holds for all maps, whatever was tried.
 """
 
-from roundwright.basics import columns_of, least_of, rows_of, spread
+from roundwright.basics import least_of
+from roundwright.webpairs import WebPair
 
 # Causes of events: something was tried, a place beside has less left, or something learned.
 _TRIED = 0
@@ -27,26 +28,14 @@ def _turn(number):
     return (number + 1) // 2
 
 
-class MapHunt:
+class MapHunt(WebPair):
     """A web and another one, what is left for each place, the events that led there, and what was learned."""
 
     def __init__(self, one, other):
-        self.behind = [[] for _ in range(one.size)]
-        self.ahead = [[] for _ in range(one.size)]
-        full = (1 << other.size) - 1
-        loops = sum([1 << first for first, second in other.pairs if first == second])
-        self.held = [full] * one.size
-        for first, second in one.pairs:
-            if first == second:
-                self.held[first] = full & loops
-            else:
-                self.behind[first].append(second)
-                self.ahead[second].append(first)
-        self.rows = rows_of(other.size, other.pairs)
-        self.columns = columns_of(other.size, other.pairs)
-        self.led_known = {}
-        self.leading_known = {}
-        self.sizes = {}
+        super().__init__(one, other)
+        self.held = [self.images] * one.size
+        for place in self.looped:
+            self.held[place] = self.loops
         self.events = []
         self.of_place = [[] for _ in range(one.size)]
         self.begun = [0]
@@ -62,24 +51,6 @@ class MapHunt:
         self.hot = []
         self.first_open = 0
         self.liked = [0] * one.size
-
-    def led(self, held):
-        """The set of what the places of a set lead to."""
-        if held not in self.led_known:
-            self.led_known[held] = spread(self.rows, held)
-        return self.led_known[held]
-
-    def leading(self, held):
-        """The set of what leads to the places of a set."""
-        if held not in self.leading_known:
-            self.leading_known[held] = spread(self.columns, held)
-        return self.leading_known[held]
-
-    def many(self, held):
-        """How many places a set has."""
-        if held not in self.sizes:
-            self.sizes[held] = f"{held:b}".count("1")
-        return self.sizes[held]
 
     def level(self):
         """How many things are tried."""
@@ -375,11 +346,10 @@ class MapHunt:
         self.back_to(self.level() - 1 if goes_on else 0)
         # What is so for all maps need not be looked at.
         images = {place: image for place, image in images.items() if goes_on or self.held[place] != image}
-        full = (1 << len(self.rows)) - 1
         number = len(self.learned)
         last = list(images)[-2:]
         self.lasting[number] = True
-        self.learned.append({place: full & ~image for place, image in images.items()})
+        self.learned.append({place: self.images & ~image for place, image in images.items()})
         self.watched.append(sum(last))
         if not images:
             self.broken = True

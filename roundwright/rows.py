@@ -12,10 +12,12 @@ def _size(held):
 class RowSearch:
     """Places that lead to places; a row is of places of which each leads to all later ones.
 
-    What was found out of a set of places is kept: how many a row within it has at least, and how many at most.
+    What was found out of a set of places is kept: how many a row within it has at least, and how many at most. After
+    so many tries (without end, if they are below 0) rows are taken to be as long as is asked.
     """
 
-    def __init__(self, rows, columns):
+    def __init__(self, rows, columns, tries):
+        self.tries = tries
         self.rows = rows
         self.columns = columns
         self.beside = [row | column for row, column in zip(rows, columns)]
@@ -94,6 +96,9 @@ class RowSearch:
         groups = self.colours(held)
         if len(groups) < need:
             return False
+        if self.tries == 0:
+            return True
+        self.tries -= 1
         # Where all lead both ways the sequence does not matter, and a place of one of the last groups is needed.
         last = [place for group in groups[need - 1:] for place in group][::-1]
         for place in last if self.both else self.firsts(held, need):
@@ -124,7 +129,7 @@ class RowSearch:
 def _least_row(web, rows, columns):
     if loops_of(web):
         return None
-    search = RowSearch(rows, columns)
+    search = RowSearch(rows, columns, -1)
     full = (1 << web.size) - 1
     return search.least_row(full, search.row_size(full))
 
@@ -136,7 +141,7 @@ def _both_ways(web):
 def some_beside(web, many):
     """The least ascending tuple of so many places of a web without loops that all lead to one another; or None."""
     both = _both_ways(web)
-    search = RowSearch(both, both)
+    search = RowSearch(both, both, -1)
     full = (1 << web.size) - 1
     return search.least_row(full, many) if search.reaches(full, many) else None
 
