@@ -14,9 +14,9 @@ _AHEAD = 1
 _BEHIND = 2
 _LEARNED = 3
 # After so many dead ends, times 1, 1, 2, 1, 1, 2, 4 .., the hunt begins anew with what it learned.
-_PATIENCE = 60
+_PATIENCE = 100
 # When so much was learned, and each time so much more, the longer half of it is forgotten.
-_MORE_ROOM = 4000
+_MORE_ROOM = 1500
 _FINE = 1000000
 _MOST_GAIN = 1000000000000000000000000
 
@@ -87,23 +87,25 @@ class MapHunt(WebPair):
     def settle_learned(self, place):
         """Use what was learned where a place has lost all of a set; None, or a place for which nothing is left."""
         held = self.held[place]
-        kept = []
+        watching = self.watching[place]
+        lost = [pair for pair in watching if not held & pair[1]]
+        if not lost:
+            return None
+        kept = [pair for pair in watching if held & pair[1]]
         stuck = None
-        for number in list(self.watching[place]):
+        for pair in lost:
+            number = pair[0]
             sets = self.learned[number]
-            if held & sets[place] or stuck is not None:
-                kept.append(number)
-                continue
             other = self.watched[number] - place
-            if not self.held[other] & sets[other] == self.held[other]:
+            if stuck is None and self.held[other] & ~sets[other]:
                 further = self.further_place(sets, place, other)
                 if further is not None:
-                    self.watching[further].append(number)
+                    self.watching[further].append((number, sets[further]))
                     self.watched[number] = other + further
                     continue
                 if not self.take(other, self.held[other] & ~sets[other], _LEARNED, number):
                     stuck = other
-            kept.append(number)
+            kept.append(pair)
         self.watching[place] = kept
         return stuck
 
@@ -203,8 +205,8 @@ class MapHunt(WebPair):
         self.learned.append(sets)
         self.watched.append(place if second is None else place + second)
         if second is not None:
-            self.watching[place].append(number)
-            self.watching[second].append(number)
+            self.watching[place].append((number, sets[place]))
+            self.watching[second].append((number, sets[second]))
         if not self.take(place, self.held[place] & ~sets[place], _LEARNED, number):
             return place
         return self.settle()
@@ -263,7 +265,8 @@ class MapHunt(WebPair):
         self.learned = [self.learned[number] for number in kept]
         self.watched = [self.watched[number] for number in kept]
         self.lasting = {numbers[number]: True for number in self.lasting}
-        self.watching = [[numbers[number] for number in group if number in numbers] for group in self.watching]
+        self.watching = [
+            [(numbers[number], sets) for number, sets in group if number in numbers] for group in self.watching]
 
     def begin_anew(self, assumed):
         """Begin with these sets assumed for some places; whether each place has something left then."""
@@ -356,5 +359,5 @@ class MapHunt(WebPair):
         elif goes_on or len(images) == 1:
             self.take(last[-1], images[last[-1]], _LEARNED, number)
         for place in last if len(images) > 1 else []:
-            self.watching[place].append(number)
+            self.watching[place].append((number, self.learned[number][place]))
         return goes_on

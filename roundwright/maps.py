@@ -8,7 +8,7 @@ from roundwright.webs import check_webs, is_web_map
 
 _MOST_MAPS = 200
 # So many dead ends are borne in going straight to the least map, before it is asked how far it goes on.
-_STRAIGHT = 300
+_STRAIGHT = 100
 
 
 def is_map(one, other, thing):
