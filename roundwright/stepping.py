@@ -35,12 +35,11 @@ def _most_unlike(web, halves):
     while low <= names:
         web_of_windows(low, halves, UNLIKE)
         low += 1
-    while names != most:
+    while True:
         windows = web_of_windows(names + 1, halves, UNLIKE)
-        if not can_have_map(windows, web) or MapHunt(windows, web).found([]) is None:
+        if names == most or not can_have_map(windows, web) or MapHunt(windows, web).found([]) is None:
             return names
         names += 1
-    return names
 
 
 def most_names(problem, halves, kind):

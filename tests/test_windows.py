@@ -136,6 +136,11 @@ class TestStepping(unittest.TestCase):
         self.assertEqual(raised(TooMany, most_names, whole_problem(4), 2, "unlike").most, 50000)
         self.assertEqual(raised(TooMany, most_names, brute.EMPTY_12, 6, "unlike").most, 4096)
         self.assertEqual(raised(TooMany, most_names, brute.CHESS, 12, "unlike").most, 4096)
+        # Without pairs one name more than there are halves has windows, none of which leads to another one.
+        for halves in (1, 2, 3, 4):
+            self.assertEqual(most_names(brute.EMPTY_12, halves, "unlike"), halves + 1)
+        self.assertEqual(most_names(brute.EMPTY_12, 5, "rising"), 6)
+        self.assertEqual(raised(TooMany, most_names, brute.EMPTY_12, 5, "unlike").most, 4096)
         for halves in (-1, 13, True, None):
             self.assertEqual(raised(BadNumber, most_names, brute.CHESS, halves, None).part, "halves")
         for kind in ("", None, 3, "all"):
